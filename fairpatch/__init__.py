@@ -1,0 +1,1 @@
+"""Fairpatch: rules of games that are patched while games run."""

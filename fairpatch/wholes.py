@@ -1,0 +1,32 @@
+"""Integers as the package means them, and what lists of them share."""
+
+from math import gcd
+
+
+def is_whole(value):
+    """Whether any value is an integer, which True and False are not."""
+    return isinstance(value, int) and not isinstance(value, bool)
+
+
+def is_whole_from(value, low, high):
+    """Whether any value is an integer from `low` to `high`."""
+    return is_whole(value) and low <= value <= high
+
+
+def common_divisor(wholes):
+    """The greatest common divisor of a list of integers, 0 if all are 0."""
+    divisor = 0
+    for whole in wholes:
+        divisor = gcd(divisor, whole)
+    return divisor
+
+
+def in_lowest_terms(wholes):
+    """A new list of the integers, not all 0, divided by their greatest common divisor."""
+    divisor = common_divisor(wholes)
+    return [whole // divisor for whole in wholes]
+
+
+def dot(wholes, others):
+    """The sum of the products of the integers that stand at the same places."""
+    return sum([whole * other for whole, other in zip(wholes, others)])

@@ -1,0 +1,111 @@
+"""The sessions of the interface, line by line: what is printed, or which error is raised with which attributes."""
+
+import unittest
+
+from fairpatch import errors
+
+SESSIONS = {
+    "hulls": r"""
+>>> from fairpatch.hulls import corners, shares_in
+>>> from fairpatch.lots import is_lot, mean, mixed, sure
+>>> from fairpatch.ratios import Ratio
+>>> half = Ratio(-3, -6)
+>>> [half.top, half.bottom, str(half - 2), str(half.over(Ratio(3, 4))), half.below(1), 1 - half == half]
+[1, 2, '-3/2', '2/3', True, True]
+>>> [sure(3, 2), is_lot(3, (2, 0, 4)), mixed([(1, 0, 0), (0, 1, 1)], [1, 2]), str(mean((1, 0, 2), [6, 1, -1]))]
+[(0, 0, 1), False, (1, 1, 1), '4/3']
+>>> corners([(1, 1, 0), (0, 1, 0), (1, 0, 0), (0, 1, 0)])
+[(0, 1, 0), (1, 0, 0)]
+>>> [str(share) for share in shares_in([(1, 0, 0), (0, 1, 1)], (2, 1, 1))]
+['1/2', '1/2']
+""",
+    "spaces": r"""
+>>> from fairpatch.spaces import Space, is_word
+>>> space = Space([("hp", 3), ("gold", 2)])
+>>> [len(space), space.names, space.stores(), "gold" in space, is_word("draw"), is_word("drawn")]
+[6, (('hp', 3), ('gold', 2)), [0, 1, 2, 3, 4, 5], True, False, True]
+>>> [space.values_of(3), space.store_of({"gold": 0, "hp": 2}), space.value_of(5, "hp"), space.size_of("gold")]
+[{'hp': 1, 'gold': 1}, 4, 2, 2]
+>>> [space.with_value(3, "hp", 5), space.with_value(3, "gold", -2), space == Space((("hp", 3), ("gold", 2)))]
+[5, 2, True]
+""",
+    "texts": r"""
+>>> from fairpatch.texts import is_tree, read_system, write_system
+>>> system = read_system("name hp 3 unit roll { draw hp 0 by 1 2 by 3 } unit game { while [hp = 0] and [yes] { call roll } }")
+>>> [system[0], system[1][0]]
+[(('hp', 3),), ('roll', (('draw', 'hp', ((0, 1), (2, 3))),))]
+>>> system[1][1][1][0][1]
+('and', ('same', ('name', 'hp'), ('num', 0)), ('yes',))
+>>> write_system(read_system("name a 2 unit b{if a+1<2{set a=(a+1)*2}else{}}"))
+'name a 2\nunit b {\n  if a + 1 < 2 {\n    set a = (a + 1) * 2\n  } else {\n  }\n}'
+>>> [is_tree(system), is_tree((system[0], list(system[1]))), is_tree(((("a", 2),), (("b", ()),)))]
+[True, False, True]
+>>> read_system("name hp 3\nunit game { set hp = }")
+raises NoSystem(2, 22)
+>>> read_system("name a 2 unit b { set a = (a) }")
+raises NoSystem(1, 29)
+>>> read_system("name a 2 unit b { set a = (((((a")
+raises NoSystem(1, 31)
+""",
+    "checks": r"""
+>>> from fairpatch.checks import calls_of, check_system, is_fair, space_of, statements, with_body
+>>> roll = ("roll", (("draw", "hp", ((0, 1), (1, 2))),))
+>>> game = ("game", (("choose", (("go", (("call", "roll"),)), ("stay", ()))), ("set", "hp", ("num", 1))))
+>>> system = ((("hp", 2),), (roll, game))
+>>> [check_system(system), len(space_of(system)), calls_of(system, "game"), calls_of(system, "roll")]
+[None, 2, ['roll'], []]
+>>> [path for path, statement in statements(system, "game")]
+[(0,), (0, 0, 0), (1,)]
+>>> [with_body(system, "game", ())[1][1], is_fair(system), is_fair((system[0], (game, roll)))]
+[('game', ()), True, False]
+>>> with_body(system, "roll", (("call", "game"),))
+raises NotFair('call', 'roll', 'game')
+>>> check_system(((("hp", 3), ("gold", 3)), ()))
+raises InvalidSystem(((('hp', 3), ('gold', 3)), ()))
+""",
+    "plain": r"""
+>>> from fairpatch.plain import play
+>>> roll = ("roll", (("draw", "hp", ((0, 1), (3, 2))),))
+>>> again = ("while", ("less", ("name", "hp"), ("num", 2)), (("call", "roll"),))
+>>> flee = ("flee", (("set", "hp", ("-", ("name", "hp"), ("num", 3))),))
+>>> game = ("game", (("choose", (("strike", (("call", "roll"),)), flee)), again))
+>>> system = ((("hp", 4),), (roll, game))
+>>> play(system, 1, ["strike", 0, 2], 9)
+(['choose strike', 'call roll', 'turn 0 of 3', 'back roll', 'loop', 'call roll', 'turn 2 of 3', 'back roll', 'back game'], 3)
+>>> play(system, 1, ["flee", "never taken"], 2000)
+(['choose flee', 'back game'], 2)
+>>> play(system, 0, ["strike", 0], 5)
+(['choose strike', 'call roll', 'turn 0 of 3', 'back roll', 'loop'], None)
+>>> [play(system, 2, [], 2000), play(system, 2, ["flee", 1], 1)]
+[([], None), (['choose flee'], None)]
+>>> play(system, 2, ["strike", 3], 2000)
+raises InvalidAnswer(['strike', 3])
+""",
+}
+
+
+class ExampleTests(unittest.TestCase):
+    def judge(self, code, told, names):
+        """Runs a line, and compares what it tells with what the interface tells."""
+        if told.startswith("raises "):
+            expected = eval(told[len("raises "):], vars(errors))
+            with self.assertRaises(errors.PatchError) as caught:
+                exec(code, names)
+            self.assertIs(caught.exception.__class__, expected.__class__)
+            self.assertEqual(vars(caught.exception), vars(expected))
+        elif told:
+            self.assertEqual(repr(eval(code, names)), told)
+        else:
+            exec(code, names)
+
+    def test_sessions(self):
+        for module, session in SESSIONS.items():
+            names = {}
+            for step in session.strip().split(">>> ")[1:]:
+                code, _, told = step.partition("\n")
+                with self.subTest(module=module, code=code):
+                    self.judge(code, told.strip(), names)
+
+
+if __name__ == "__main__":
+    unittest.main()
