@@ -1,13 +1,13 @@
 """Reading texts of systems piece by piece, each of them once."""
 
 from fairpatch.errors import NoSystem
-from fairpatch.spaces import GREATEST_SIZE, LEAST_SIZE, LETTERS, MOST_NAMES, is_word
+from fairpatch.spaces import GREATEST_SIZE, LEAST_SIZE, MOST_NAMES, is_word
 from fairpatch.trees import (
     DEEPEST, GREATEST_NUM, GREATEST_VALUE, GREATEST_WEIGHT, MOST_LOOPS, MOST_STATEMENTS,
     MOST_STATEMENTS_IN_ALL, MOST_UNITS, SIGNS,
 )
 
-RUN_SIGNS = LETTERS + "0123456789"
+RUN_SIGNS = "abcdefghijklmnopqrstuvwxyz0123456789"
 BLANKS = " \n"
 STATEMENT_WORDS = ("set", "draw", "choose", "if", "while", "call")
 COMPARED = {"<": "less", "=": "same"}

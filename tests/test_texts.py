@@ -103,7 +103,9 @@ class TreeTests(unittest.TestCase):
     def test_wrong_statements(self):
         one = ("num", 1)
         self.bad(*[of_body((statement,)) for statement in [
-            None, 1, "set", (), ("set",), ("set", "a"), ("set", "a", one, one), ["set", "a", one], ("set", "A", one),
+            None, 1, "set", (), ("set",), ("set", "a"), ("set", "a", one, one),
+            ("set", "a", one, one, one), ("draw", "a", ((0, 1), (1, 1)), (), ()), ("if", ("yes",), (), (), (), ()),
+            ("while", ("yes",), (), (), ()), ("call", "b", (), (), ()), ["set", "a", one], ("set", "A", one),
             ("set", "if", one), ("set", "a", 1), ("set", "a", ["num", 1]), ("Set", "a", one), (None, "a", one),
             ("draw",), ("draw", "a"), ("draw", "a", ()), ("draw", "a", ((0, 1),)), ("draw", "a", ((0, 1),) * 4),
             ("draw", "a", [(0, 1), (1, 1)]), ("draw", "a", ([0, 1], (1, 1))), ("draw", "a", ((0, 1), (6, 1))),
@@ -142,12 +144,14 @@ class TreeTests(unittest.TestCase):
             ("yes",), ("less", one, one), ("same", chain(5), one), ("less", one, chain(5, False)), ("not", ("yes",)),
             ("and", ("yes",), ("not", ("yes",))), ("or", ("same", one, one), ("yes",)), nots(6), joins(6),
             ("not", ("not", ("not", ("not", ("less", one, one))))), ("not", ("same", chain(4), chain(4))),
+            ("and", nots(5), nots(5)), ("or", ("less", chain(4), one), ("same", one, chain(4))),
         ]])
         self.bad(*[of_condition(condition) for condition in [
             ("yes", 1), ("no",), (), "yes", None, True, ("less", one), ("less", one, one, one), ("same", one, ("yes",)),
             ("not",), ("not", one), ("not", ("yes",), ("yes",)), ("and", ("yes",)), ("and", ("yes",), one), ["yes"],
             ("or", ["yes"], ("yes",)), ("or", ("yes",), ("yes",), ("yes",)), ("less", 1, 2), nots(7), joins(7),
-            ("same", chain(6), one), ("not", ("less", chain(5), one)), ("more", one, one), ("name", "a"),
+            ("same", chain(6), one), ("less", one, chain(6)), ("same", one, chain(6, False)), ("not", ("less", chain(5), one)),
+            ("and", nots(6), ("yes",)), ("or", ("yes",), nots(6)), ("and", ("less", chain(5), one), ("yes",)), ("more", one, one), ("name", "a"),
             ("not", ("not", ("not", ("not", ("not", ("less", one, one)))))),
         ]])
 
