@@ -30,9 +30,11 @@ def check_lots(lots):
     """Raises InvalidLots unless this is a list of lots on equally many outcomes."""
     if not isinstance(lots, (list, tuple)) or not 1 <= len(lots) <= MOST_LOTS:
         raise InvalidLots(lots)
-    if not all([has_lot_form(lot) and len(lot) == len(lots[0]) for lot in lots]):
+    # all of them are judged first: what is no lot need not have a length
+    if not all([has_lot_form(lot) for lot in lots]):
         raise InvalidLots(lots)
-    if not FEWEST_OUTCOMES <= len(lots[0]) <= MOST_OUTCOMES:
+    many = len(lots[0])
+    if not FEWEST_OUTCOMES <= many <= MOST_OUTCOMES or not all([len(lot) == many for lot in lots]):
         raise InvalidLots(lots)
 
 
@@ -75,11 +77,8 @@ def are_weights(value, many):
     return min(tops) >= 0 and max(tops) > 0
 
 
-def mixed(lots, weights):
-    """The mixture of the lots by the weights."""
-    check_lots(lots)
-    if not are_weights(weights, len(lots)):
-        raise InvalidBlend(weights)
+def mixture_by(lots, weights):
+    """The mixture of any number of lots by weights that are right for them."""
     # one bottom for all weights by share keeps the sums below in integers
     parts = [as_ratio(weight).over(sum(lot)) for lot, weight in zip(lots, weights)]
     bottom = 1
@@ -90,3 +89,11 @@ def mixed(lots, weights):
         factor = part.top * (bottom // part.bottom)
         sums = [total + factor * share for total, share in zip(sums, lot)]
     return tuple(in_lowest_terms(sums))
+
+
+def mixed(lots, weights):
+    """The mixture of the lots by the weights."""
+    check_lots(lots)
+    if not are_weights(weights, len(lots)):
+        raise InvalidBlend(weights)
+    return mixture_by(lots, weights)

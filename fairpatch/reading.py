@@ -6,6 +6,7 @@ from fairpatch.trees import (
     DEEPEST, GREATEST_NUM, GREATEST_VALUE, GREATEST_WEIGHT, MOST_LOOPS, MOST_STATEMENTS,
     MOST_STATEMENTS_IN_ALL, MOST_UNITS, SIGNS,
 )
+from fairpatch.wholes import is_whole_from, read_whole
 
 RUN_SIGNS = "abcdefghijklmnopqrstuvwxyz0123456789"
 BLANKS = " \n"
@@ -27,11 +28,6 @@ def pieces_of(text):
     if start < len(text):
         found.append((text[start:], start))
     return found
-
-
-def numerals(low, high):
-    """The list of the integers from `low` to `high`, as they are written."""
-    return [str(number) for number in range(low, high + 1)]
 
 
 class Reader:
@@ -85,7 +81,11 @@ class Reader:
 
     def take_number(self, low, high):
         """Takes an integer from `low` to `high`, and returns it."""
-        return int(self.take_one_of(numerals(low, high)))
+        number = read_whole(self.peek())
+        if number is None or not low <= number <= high:
+            self.stop()
+        self.at += 1
+        return number
 
     def take_system(self):
         """The system of which the whole string is a text."""
@@ -151,7 +151,7 @@ class Reader:
     def take_draw_pairs(self):
         """The two or three values with their weights of a draw."""
         pairs = [self.take_draw_pair(), self.take_draw_pair()]
-        if self.peek() in numerals(0, GREATEST_VALUE):
+        if is_whole_from(read_whole(self.peek()), 0, GREATEST_VALUE):
             pairs.append(self.take_draw_pair())
         return tuple(pairs)
 

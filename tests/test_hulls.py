@@ -6,9 +6,9 @@ from random import Random
 from fairpatch.cones import Cone
 from fairpatch.errors import InvalidLot, InvalidLots, Outside
 from fairpatch.hulls import corners, shares_in
-from fairpatch.lots import is_lot, mean, sure
+from fairpatch.lots import is_lot, mean, mixed, sure
 from fairpatch.ratios import Ratio
-from tests.samples import lot_of, mixture, random_lot
+from tests.samples import any_values, lot_of, mixture, random_lot
 
 WRONG_LOTS = [
     None, 1, "", (), [], {}, [None], [(1, 0)], [(1,) * 10], [[1, 0, 0]], [(1, 0, 0), (1, 0, 0, 0)], [(2, 0, 0)],
@@ -249,6 +249,12 @@ class HullTests(unittest.TestCase):
                 with self.assertRaises(InvalidLots) as caught:
                     call()
                 self.assertIs(caught.exception.given, lots)
+        for wrong in any_values():
+            for lots in ([wrong, (1, 0, 0)], (wrong, (1, 0, 0), (1, 0, 0)), [(1, 0, 0), wrong], [wrong], [wrong, wrong]):
+                for call in (lambda: corners(lots), lambda: shares_in(lots, (1, 0, 0)), lambda: mixed(lots, [1] * len(lots))):
+                    with self.assertRaises(InvalidLots) as caught:
+                        call()
+                    self.assertIs(caught.exception.given, lots)
         for lot in [None, 1, "abc", (), [1, 0, 0], (1, 0), (1, 0, 0, 0), (2, 0, 0), (0, 0, 0), (1, 0, True), (1, 0, -1)]:
             with self.assertRaises(InvalidLot) as caught:
                 shares_in([(1, 0, 0), (0, 1, 0)], lot)

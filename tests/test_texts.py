@@ -1,4 +1,5 @@
 import re
+import time
 import unittest
 from random import Random
 
@@ -390,6 +391,29 @@ class TextTests(unittest.TestCase):
         self.assertEqual(self.place("name " * 8000), (1, 6))
         self.assertEqual(self.place("9" * 40000), (1, 1))
         self.assertTrue(is_tree(read_system("name a 2" + " \n" * 19000 + "unit b { }")))
+
+    def test_integers_as_fast_as_names(self):
+        def time_with(leaf):
+            expression = leaf
+            for depth in range(5):
+                expression = f"{expression} + {expression}" if depth == 0 else f"({expression}) + ({expression})"
+            text = "name a 2 name b 2 name c 2 " + f"unit u {{ {('set a = ' + expression + ' ') * 20} }} " * 3
+            best = 9
+            for _ in range(7):
+                begun = time.perf_counter()
+                system = read_system(text)
+                best = min(best, time.perf_counter() - begun)
+            self.assertEqual(write_system(system).count("set a = "), 60)
+            return best
+
+        self.assertLess(time_with("9"), 2 * time_with("a"))
+        self.assertLess(time_with("99"), 2 * time_with("a"))
+
+    def test_signs_that_are_no_digits(self):
+        for sign in "\u00b2\u0663\uff11\u2460":
+            for piece in (sign, "1" + sign, sign + "1"):
+                place = 28 if piece[0] == "1" else 27
+                self.assertEqual(self.place(BEGIN + "set a = " + piece), (1, place))
 
     def test_no_strings(self):
         for value in any_values():
