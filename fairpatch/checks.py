@@ -131,10 +131,15 @@ def statements(system, unit):
     return walked(body_of(system, unit), ())
 
 
+def calls_within(system, body):
+    """The list of the units of a fair system that a body calls, each once, in the order of the units."""
+    called = [statement[1] for _, statement in walked(body, ()) if statement[0] == "call"]
+    return [name for name, _ in system[1] if name in called]
+
+
 def calls_of(system, unit):
     """The list of the units that a unit calls, each once, in the order of the units."""
-    called = [statement[1] for _, statement in statements(system, unit) if statement[0] == "call"]
-    return [name for name in unit_names(system) if name in called]
+    return calls_within(system, body_of(system, unit))
 
 
 def with_body(system, unit, body):

@@ -100,8 +100,10 @@ class LanguageTests(unittest.TestCase):
                     self.assertIsInstance(right, ast.Constant)
         for name, node in self.nodes(ast.Raise):
             self.assertIsInstance(node.exc, ast.Call)
-        for name, node in self.nodes(ast.Pow):
-            self.fail((name, "write powers of literals alone"))
+        for name, node in self.nodes(ast.BinOp):
+            if isinstance(node.op, ast.Pow):
+                self.assertIsInstance(node.left, ast.Constant, name)
+                self.assertIsInstance(node.right, ast.Constant, name)
 
     def test_imports(self):
         goes_to = {}

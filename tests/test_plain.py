@@ -7,6 +7,7 @@ from fairpatch.ratios import Ratio
 from fairpatch.spaces import Space
 from fairpatch.texts import read_system
 from tests.samples import TreeMaker, any_values
+from tests.walks import true_in, value_in
 
 RULES = """
 name hp 4
@@ -16,23 +17,6 @@ unit game {
   while hp < 2 { call roll }
 }
 """
-
-
-def value_in(expression, values):
-    if expression[0] == "num":
-        return expression[1]
-    if expression[0] == "name":
-        return values[expression[1]]
-    left, right = [value_in(part, values) for part in expression[1:]]
-    return {"+": left + right, "-": left - right, "*": left * right}[expression[0]]
-
-
-def true_in(condition, values):
-    if condition[0] in ("less", "same"):
-        left, right = [value_in(part, values) for part in condition[1:]]
-        return left < right if condition[0] == "less" else left == right
-    parts = [true_in(part, values) for part in condition[1:]]
-    return {"yes": True, "not": not parts or not parts[0], "and": all(parts), "or": any(parts)}[condition[0]]
 
 
 def told(system, store, answer):
