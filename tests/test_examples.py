@@ -81,6 +81,91 @@ raises InvalidSystem(((('hp', 3), ('gold', 3)), ()))
 >>> play(system, 2, ["strike", 3], 2000)
 raises InvalidAnswer(['strike', 3])
 """,
+    "webs": r"""
+>>> from fairpatch.webs import web
+>>> heal = ("set", "hp", ("+", ("name", "hp"), ("num", 1)))
+>>> turn = ("choose", (("risk", (("call", "roll"),)), ("heal", (heal,))))
+>>> roll = ("roll", (("draw", "hp", ((0, 1), (2, 3))),))
+>>> system = ((("hp", 3),), (roll, ("game", (("while", ("less", ("name", "hp"), ("num", 2)), (turn,)),))))
+>>> game = web(system, "game", {"roll": [[(1, 0, 3, 0)], [(1, 0, 3, 0)], [(1, 0, 3, 0)]]})
+>>> [web(system, "roll", {}).moves(((0,), 1)), game.first(0), game.first(2), game.never]
+[[[(0, 1), (2, 3)]], ((0,), 0), 2, 3]
+>>> [game.moves(((0, 0, 0), 0)), game.moves(((0, 0, 0, 0, 0), 1))]
+[[[(((0, 0, 0, 0, 0), 0), 1)], [(((0,), 1), 1)]], [[(2, 3), (((0,), 0), 1)]]]
+>>> [game.rows_from(1)[:3], game.stays_from(0), game.behind(((0, 0, 0, 0, 0), 0), 1)]
+[[((0,), 0), ((0,), 1), ((0, 0, 0), 0)], [], ((0,), 1)]
+""",
+    "forward": r"""
+>>> from fairpatch.forward import best, brought, corners_of, is_brought, summary, table
+>>> from fairpatch.picks import lot_by, picks
+>>> roll = ("roll", (("draw", "hp", ((0, 1), (2, 3))),))
+>>> game = ("game", (("choose", (("risk", (("call", "roll"),)), ("wait", (("while", ("yes",), ()),)))),))
+>>> system = ((("hp", 3),), (roll, game))
+>>> told = {"roll": summary(system, "roll")}
+>>> [told["roll"][0], picks(system, "game", 1, told), lot_by(system, "game", 1, told, (1,))]
+[[(1, 0, 3, 0)], [(0,), (1,)], (0, 0, 0, 1)]
+>>> [corners_of(system, "game", 1, told), brought(system, "game", 1, told, (1, 0, 3, 0))]
+[[(0, 0, 0, 1), (1, 0, 3, 0)], [(1, (0,))]]
+>>> is_brought(system, "game", 1, told, (1, 0, 3, 4), [(2, (0,)), (2, (1,))])
+True
+>>> [str(best(system, "game", 1, told, [0, 0, 4, 1])), [str(one[1]) for one in table(system, "game", 1, told, [0, 0, 4, 1])]]
+['3', ['3', '3', '1']]
+""",
+    "stands": r"""
+>>> from fairpatch.ratios import Ratio
+>>> from fairpatch.stands import is_paper_for, paper_for, stands_at, stands_for
+>>> from fairpatch.webs import web
+>>> pick = ("choose", (("low", (("set", "hp", ("num", 0)),)), ("high", (("set", "hp", ("num", 1)),))))
+>>> coin, names = ("draw", "hp", ((0, 1), (1, 3))), (("hp", 2),)
+>>> free, fair = (names, (("roll", (pick,)),)), (names, (("roll", (coin,)),))
+>>> [stands_for(free, "roll", (coin,)), stands_for(free, "roll", ()), paper_for(fair, "roll", (pick,))[:2]]
+[True, True, ('no', 0)]
+>>> [[lot for lot, blend in part] for part in paper_for(free, "roll", ())[1]]
+[[(1, 0, 0)], [(0, 1, 0)]]
+>>> is_paper_for(free, "roll", (coin,), ("yes", [[((1, 3, 0), [(3, (1,)), (1, (0,))])]] * 2))
+True
+>>> [is_paper_for(fair, "roll", (pick,), ("no", 1, (0,), [1, 0, 0], [(((0,), 1), n)])) for n in [0, Ratio(1, 4), 1]]
+[False, True, False]
+>>> net = web(free, "roll", {})
+>>> [stands_at(net, 1, net, ((0,), 0)), stands_at(net, ((0,), 0), net, 1)]
+[True, False]
+""",
+    "code": r"""
+>>> from fairpatch.code import is_code, lines_of, read_code
+>>> from fairpatch.compiler import compiled, row_numbers
+>>> from fairpatch.running import answered, question, settled
+>>> from fairpatch.spaces import Space
+>>> loop = ("while", ("less", ("name", "hp"), ("num", 2)), (("draw", "hp", ((1, 1), (2, 2))),))
+>>> body = (loop, ("set", "hp", ("-", ("name", "hp"), ("num", 3))))
+>>> system = ((("hp", 3),), (("game", ()),))
+>>> code = compiled(system, "game", body)
+>>> lines_of(code)[:7]
+['load hp', 'push 2', 'less', 'unless 7', 'loop', 'draw hp 1 by 1 2 by 2', 'go 0']
+>>> [lines_of(code)[7:], code.heights[:4], code.ranks[5:8], read_code(lines_of(code)) == code]
+[['load hp', 'push 3', 'take', 'save hp', 'back'], (0, 1, 2, 1), (0, 9, 4), True]
+>>> [row_numbers(system, "game", body), question(code, 5), is_code([("go", 0), ("back",)])]
+[[((0,), 4), ((0, 0, 0), 5)], ('turn', 3), False]
+>>> space = Space([("hp", 3)])
+>>> [settled(space, code, 0, 0), answered(space, code, 5, 0, 0), answered(space, code, 5, 0, 1)]
+[(4, 0), (4, 1), (11, 2)]
+""",
+    "machine": r"""
+>>> from fairpatch.machine import Game, Shelf
+>>> from fairpatch.texts import read_system
+>>> system = read_system("name hp 3 unit roll { draw hp 0 by 1 2 by 3 } unit game { while hp < 2 { call roll } }")
+>>> shelf = Shelf(system)
+>>> game = Game(shelf, 0)
+>>> [game.asks(), game.go(), game.asks(), game.go(), game.asks()]
+[('loop',), None, ('call', 'roll'), None, ('turn', 4)]
+>>> [shelf.exchange("roll", (("set", "hp", ("num", 2)),)), shelf.standing("roll"), game.turn(0), game.asks()]
+[1, 1, None, ('back', 'roll')]
+>>> [game.go(), game.asks(), game.go(), game.go(), game.asks(), [frame[:2] for frame in game.frames()]]
+[None, ('loop',), None, None, ('back', 'roll'), [('game', 0), ('roll', 1)]]
+>>> [game.go(), game.asks(), game.go(), game.asks(), game.is_over, game.frames()]
+[None, ('back', 'game'), None, ('over', 2), True, []]
+>>> game.lines()
+['loop', 'call roll 0', 'turn 0 of 4', 'back roll', 'loop', 'call roll 1', 'back roll', 'back game']
+""",
 }
 
 

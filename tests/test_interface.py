@@ -15,6 +15,20 @@ FUNCTIONS = {
         "body_of": "system unit", "statements": "system unit", "calls_of": "system unit", "with_body": "system unit body",
     },
     "plain": {"play": "system store answers steps"},
+    "webs": {"web": "system unit summaries"},
+    "picks": {"picks": "system unit store summaries", "lot_by": "system unit store summaries pick"},
+    "forward": {
+        "corners_of": "system unit store summaries", "summary": "system unit", "brought": "system unit store summaries lot",
+        "table": "system unit store summaries payoff", "best": "system unit store summaries payoff",
+        "is_brought": "system unit store summaries lot value", "is_against": "system unit store summaries lot value",
+    },
+    "stands": {
+        "stands_for": "system unit body", "paper_for": "system unit body", "is_paper_for": "system unit body value",
+        "stands_at": "web place other spot", "paper_at": "web place other spot", "is_paper_at": "web place other spot value",
+    },
+    "code": {"is_code": "value", "lines_of": "code", "read_code": "lines"},
+    "running": {"settled": "space code at store", "question": "code at", "answered": "space code at store answer"},
+    "compiler": {"compiled": "system unit body", "row_numbers": "system unit body"},
 }
 CLASSES = {
     ("ratios", "Ratio"): {
@@ -25,6 +39,19 @@ CLASSES = {
         "__init__": "self names", "__len__": "self", "__contains__": "self name", "__eq__": "self other", "stores": "self",
         "values_of": "self store", "store_of": "self values", "size_of": "self name", "value_of": "self store name",
         "with_value": "self store name value",
+    },
+    ("webs", "Web"): {
+        "is_row": "self value", "first": "self store", "moves": "self row", "behind": "self row outcome",
+        "met_from": "self place", "rows_from": "self store", "stays_from": "self store",
+    },
+    ("code", "Code"): {"__init__": "self rows", "__eq__": "self other"},
+    ("machine", "Shelf"): {
+        "__init__": "self system", "published": "self", "current": "self", "standing": "self unit", "stand": "self unit number",
+        "editions": "self unit", "body_at": "self unit number", "code_at": "self unit number", "exchange": "self unit body",
+    },
+    ("machine", "Game"): {
+        "__init__": "self shelf store", "asks": "self", "answer": "self label", "turn": "self part", "go": "self",
+        "frames": "self", "used": "self", "move": "self number place", "lines": "self",
     },
 }
 
