@@ -103,7 +103,7 @@ def are_blends(near, far, value):
 
 
 def is_refusal(near, far, value):
-    """Whether any value is a tuple (pick, payoff, table) of a pick of one bringer and a paper of the other one."""
-    if len(value) != 3 or not near.outset.is_pick(value[0]):
+    """Whether three values in a tuple tell a pick of one bringer, and a paper of the other one against its lot."""
+    if not near.outset.is_pick(value[0]):
         return False
     return is_paper_against(far.outset, near.outset.lot_by(value[0]), value[1:])

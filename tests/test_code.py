@@ -32,7 +32,9 @@ class CodeTests(unittest.TestCase):
                 Code(rows)
             self.assertIs(caught.exception.given, rows)
             return False
+        kept = list(rows)
         code = Code(rows=rows)
+        self.assertEqual(list(rows), kept)
         self.assertEqual((code.heights, code.ranks), expected)
         self.assertEqual(code.rows, tuple(rows))
         self.assertEqual({part.__class__ for part in (code.rows, code.heights, code.ranks)}, {tuple})
@@ -121,8 +123,12 @@ class CodeTests(unittest.TestCase):
         for pairs in [(("x", 1), ("x", 1)), (("x", 1),), (("x", 1), ["y", 1]), [("x", 1), ("y", 1)], (("x", 1), ("y", 1), ("x", 0)),
                       (("x", 1), ("y", 1), ("z", 1), ("w", 1)), (("x", 1), ("y",)), (("x", 1), (1, "y"))]:
             self.bad([("choose", pairs), BACK])
+        for word in ("back", "loop", "push", "turn", "go"):
+            self.good([("call", word), ("load", word), ("save", word), ("choose", ((word, 4), ("y", 4))), BACK],
+                      [("draw", word, ((0, 1), (1, 1))), BACK])
         self.good([("draw", "a", ((5, 12), (0, 1), (3, 7))), BACK], [("call", "anyone"), BACK], [("choose", (("x", 1), ("y", 1))), BACK])
-        for row in [("back", 1), ("loop", 0), ("add", 1), ("push",), ("go",), ("draw", "a"), ("halt",), ("Loop",), ["loop"], "loop", None, ()]:
+        for row in [("push", 1, 1), ("load", "a", "a"), ("save", "a", "a", "a"), ("push", 1, 1, 1), ("go", 1, 1, 1), ("unless", 1, 1, 1),
+                    ("call", "u", "u", "u"), ("draw", "a", ((0, 1), (1, 1)), 1), ("back", 1), ("loop", 0), ("add", 1), ("push",), ("go",), ("draw", "a"), ("halt",), ("Loop",), ["loop"], "loop", None, ()]:
             self.bad([row, BACK], [LOOP, row, BACK])
         self.bad([LOOP, ["back"]], [LOOP, ("back", None)], ["back"], "back", {0: BACK}, BACK, Code([BACK]), [Code([BACK])])
 

@@ -1,5 +1,6 @@
 import time
 import unittest
+from copy import deepcopy
 from fractions import Fraction
 from random import Random
 
@@ -61,7 +62,7 @@ def leaf(store):
 def tree(leaves):
     """A text of choices of one of so many stores, up to 9 with three labels each time."""
     branches = []
-    for label, stores in zip("xyz", (range(0, 3), range(3, 6), range(6, leaves))):
+    for label, stores in zip("xyz" if leaves > 6 else "xy", (range(0, 3), range(3, 6), range(6, leaves))):
         inner = [f"{'pqr'[at]} {{ {leaf(store)}}} " for at, store in enumerate(stores)]
         branches.append(f"{label} {{ " + (leaf(stores[0]) if len(inner) == 1 else "choose " + "or ".join(inner)) + "} ")
     return "choose " + "or ".join(branches)
@@ -175,11 +176,14 @@ class CornerTests(ForwardTests):
                     self.raised(*error, summary, both, first)
 
     def test_corners_with_more_than_six(self):
-        for leaves in (7, 8):
+        for leaves in (6, 7, 8):
             system = read_system("name a 2 name b 2 name c 2 unit rich { if [c = 1] and [a + b = 0] { " + tree(leaves) +
                                  "} else { } } unit g { call rich }")
             self.assertEqual([len(corners_of(system, "rich", store, {})) for store in range(8)], [1, leaves] + [1] * 6)
             for unit in ("rich", "g"):
+                if leaves == 6:
+                    self.assertEqual([len(lots) for lots in summary(system, unit)], [1, leaves] + [1] * 6)
+                    continue
                 self.raised(TooRich, {"unit": "rich", "store": 1, "count": leaves}, summary, system, unit)
 
     def test_too_great_in_summaries(self):
@@ -278,6 +282,21 @@ class BroughtTests(ForwardTests):
             self.assertEqual(self.judge(*told, lot), inside(lots, lot))
         self.assertGreater(yes, 30)
         self.assertGreater(no, 100)
+
+    def test_arguments_stay_as_they_are(self):
+        for random, system, unit, store, summaries, walk, place in small_webs(59, 40, 20):
+            lot = random.choice(walk.lots(place))
+            payoff = [random.randrange(9) for _ in range(walk.never + 1)]
+            told = table(system, unit, store, summaries, payoff)
+            blend = brought(system, unit, store, summaries, lot)
+            kept = deepcopy((summaries, payoff, told, blend))
+            for call, last in [(corners_of, ()), (brought, (lot,)), (table, (payoff,)), (best, (payoff,)), (is_brought, (lot, blend)),
+                               (is_against, (lot, (payoff, told)))]:
+                first = call(system, unit, store, summaries, *last)
+                tuples = {name: tuple(tuple(lots) for lots in part) for name, part in summaries.items()}
+                self.assertEqual(call(system, unit, store, tuples, *last), first)
+                self.assertEqual(call(system, unit, store, {**summaries, "more": None}, *last), first)
+            self.assertEqual((summaries, payoff, told, blend), kept)
 
     def test_judges_of_spoiled_values(self):
         good, bad = 0, 0
@@ -413,6 +432,10 @@ class TableTests(ForwardTests):
                 self.judge(walk, place, payoff, told, best(rules, "g", store, {}, payoff))
                 pick = pick_for(walk, place, payoff, {row: fraction(one) for row, one in told})
                 self.assertEqual(walk.mean(place, pick, payoff), fraction(best(rules, "g", store, {}, payoff)))
+                self.assertTrue(is_brought(rules, "g", store, {}, walk.lot(place, pick), [(5, pick)]))
+                for outcome in range(walk.never + 1):
+                    sure = tuple(int(at == outcome) for at in range(walk.never + 1))
+                    self.assertIs(is_against(rules, "g", store, {}, sure, (payoff, told)), payoff[outcome] > fraction(dict(told)[place]))
 
     def test_never(self):
         for text, payoff, numbers in [

@@ -421,6 +421,26 @@ class GameTests(MachineTests):
         game.go()
         self.assertEqual((game.edition, game.asks(), game.is_over, game.store), (1, ("over", 2), True, 2))
 
+    def test_words_like_those_of_steps(self):
+        system = read_system("name over 2 unit loop { draw over 0 by 1 1 by 1 } unit back { call loop } unit turn { choose loop { call back } or back { } }")
+        game = Game(Shelf(system), 1)
+        self.assertEqual(game.asks(), ("choose", ("loop", "back")))
+        game.answer("loop")
+        self.assertEqual(game.asks(), ("call", "back"))
+        game.go()
+        self.assertEqual(game.asks(), ("call", "loop"))
+        self.refused(InvalidAnswer, "turn", Game(Shelf(system), 1).answer, "turn")
+        game.go()
+        self.not_asked(game.go)
+        game.turn(0)
+        told = []
+        while not game.is_over:
+            told.append(game.asks())
+            game.go()
+        self.assertEqual(told, [("back", "loop"), ("back", "back"), ("back", "turn")])
+        self.assertEqual((game.asks(), game.lines()), (("over", 0), [
+            "choose loop", "call back 0", "call loop 0", "turn 0 of 2", "back loop", "back back", "back turn"]))
+
     def test_calls_go_on_in_their_editions(self):
         system = read_system(HEAD + "unit u { draw a 0 by 1 1 by 1 set b = 1 } unit g { call u call u }")
         shelf = Shelf(system)

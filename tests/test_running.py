@@ -121,6 +121,18 @@ class RunningTests(Refusing):
         for value in [0, "x", None]:
             self.refused(InvalidAnswer, value, answered, space, code, 3, 0, value)
 
+    def test_words_like_those_of_rows(self):
+        space = Space([("back", 2), ("loop", 3)])
+        code = Code([("call", "loop"), ("call", "back"), ("choose", (("loop", 4), ("back", 3))), ("draw", "loop", ((0, 1), (2, 1))),
+                     ("load", "back"), ("save", "loop"), BACK])
+        self.assertEqual([question(code, at) for at in (0, 1, 2, 3, 6)],
+                         [("call", "loop"), ("call", "back"), ("choose", ("loop", "back")), ("turn", 2), BACK])
+        self.assertEqual(answered(space, code, 0, 0, 5), (1, 5))
+        self.assertEqual(answered(space, code, 1, 0, 4), (2, 4))
+        self.assertEqual([answered(space, code, 2, 5, label) for label in ("loop", "back")], [(6, 4), (3, 5)])
+        for at in (0, 1, 3):
+            self.refused(InvalidAnswer, None, answered, space, code, at, 0, None)
+
     def test_errors_in_order(self):
         space = Space([("a", 2), ("hp", 3)])
         code = Code([("draw", "hp", ((0, 1), (2, 1))), ("load", "a"), ("save", "a"), BACK])
@@ -128,13 +140,14 @@ class RunningTests(Refusing):
         large = Code([("draw", "a", ((0, 1), (2, 1))), BACK])
         larger = Code([("draw", "hp", ((0, 1), (3, 1))), BACK])
         six = Code([("draw", "hp", ((0, 1), (1, 1))), ("draw", "hp", ((5, 1), (4, 1))), BACK])
+        falling = Code([("draw", "hp", ((0, 1), (5, 1))), ("draw", "hp", ((1, 1), (0, 1))), ("load", "hp"), ("save", "hp"), BACK])
         saving = Code([PUSH, ("save", "b"), BACK])
         drawing = Code([("draw", "z", ((0, 1), (1, 1))), BACK])
         for call in (lambda *told: settled(*told), lambda *told: answered(*told, "none")):
             for value in [*any_values(), [("a", 2)], code, "a", Space]:
                 if not isinstance(value, Space):
                     self.refused(InvalidNames, value, call, value, None, None, None)
-            for value in [*any_values(), code.rows, list(code.rows), loud, large, larger, six, saving, drawing]:
+            for value in [*any_values(), code.rows, list(code.rows), loud, large, larger, six, falling, saving, drawing]:
                 self.refused(InvalidCode, value, call, space, value, None, None)
             for at in [*any_values(), -1, 4, 99, "0", 2, Ratio(0), (0,)]:
                 if at != 0 and at != 1 or isinstance(at, (bool, Ratio)):
@@ -148,7 +161,7 @@ class RunningTests(Refusing):
         self.assertEqual(settled(Space([("hp", 6)]), six, 0, 1), (0, 1))
         for value in [*any_values(), code.rows, [BACK]]:
             self.refused(InvalidCode, value, question, value, None)
-        for other in (loud, large, larger, six, saving, drawing):
+        for other in (loud, large, larger, six, falling, saving, drawing):
             self.assertEqual(question(other, len(other.rows) - 1), ("back",))
         for at in [None, True, False, -1, 4, 1, 2, "0", Ratio(0)]:
             self.refused(InvalidRow, at, question, code, at)

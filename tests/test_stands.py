@@ -1,5 +1,6 @@
 import time
 import unittest
+from copy import deepcopy
 from random import Random
 
 from fairpatch.checks import with_body
@@ -158,11 +159,14 @@ class StandTests(unittest.TestCase):
                                        for store, part in enumerate(paper[1])]))
             for value in values:
                 self.assertTrue(judges.is_paper_for(new, old, value))
+                kept = deepcopy(value)
                 others = list(spoiled(value, WRONG))
                 for other in random.sample(others, min(120, len(others))):
                     expected = judges.is_paper_for(new, old, other)
                     self.assertIs(is_paper_for(system, unit, body, other), expected, other)
                     seen[expected] += 1
+                self.assertIs(is_paper_for(value=value, body=body, unit=unit, system=system), True)
+                self.assertEqual(value, kept)
             for value in [*any_values(), ("yes",), ("no",), ("yes", 1), ("no", 0), ["yes", paper[1]], ("Yes", paper[1]), ("no", *paper[1:], 1)]:
                 self.assertIs(is_paper_for(system, unit, body, value), False)
         self.assertGreater(min(seen.values()), 30)

@@ -128,6 +128,8 @@ class WebTests(unittest.TestCase):
         self.assertEqual(told.moves(((0,), 2)), [[(3, 1), (zero, 1)], [(3, 1), (zero, 1)]])
         self.assertEqual([told.behind(((0,), 1), outcome) for outcome in range(4)], [zero, zero, two, 3])
         self.assertEqual(told.behind(outcome=1, row=((2,), 1)), 1)
+        for wrong in (-1, 4, True, None):
+            self.refused(InvalidStore, wrong, told.behind, ((2,), 1), wrong)
         self.assertEqual(told.moves(((2,), 2)), [[(0, 1), (1, 2), (3, 3)], [(0, 2), (1, 1), (3, 3)]])
 
     def test_greatest_lots(self):
