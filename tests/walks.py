@@ -6,6 +6,7 @@ linear equations over the rows from which an outcome can come.
 
 from fractions import Fraction
 from itertools import product
+from math import prod
 
 from fairpatch.spaces import Space
 from tests.samples import lot_of
@@ -136,6 +137,14 @@ class Walk:
 
     def choices(self, place):
         return [row for row in self.met(place) if len(self.moves(row)) > 1]
+
+    def count(self, place):
+        """The number of picks."""
+        return prod(len(self.moves(row)) for row in self.choices(place))
+
+    def has_few(self, place, rows, picks):
+        """Whether no more rows are met from a place and no more picks are there."""
+        return len(self.met(place)) <= rows and self.count(place) <= picks
 
     def picks(self, place):
         return list(product(*[range(len(self.moves(row))) for row in self.choices(place)]))
