@@ -103,19 +103,49 @@ def has_table_form(outset, value):
     return True
 
 
-def is_table(outset, payoff, value):
-    """Whether any value is a table for a payoff."""
+def numbers_told(outset, payoff, value):
+    """A dict of the numbers of all places met by any value that is a table for a payoff; else None."""
     if not has_table_form(outset, value):
-        return False
+        return None
     numbers = {outcome: as_ratio(number) for outcome, number in enumerate(payoff)}
     for row, number in value:
         numbers[outset.numbers[row]] = as_ratio(number)
     never = numbers[outset.never]
     for row in outset.web.staying_among(outset.rows):
         if numbers[outset.numbers[row]].below(never):
-            return False
+            return None
     for number in outset.numbers.values():
         for move in outset.chain[number]:
             if numbers[number].below(mean_by(move, numbers)):
-                return False
-    return True
+                return None
+    return numbers
+
+
+def is_table(outset, payoff, value):
+    """Whether any value is a table for a payoff."""
+    return numbers_told(outset, payoff, value) is not None
+
+
+def moves_by(outset, indices):
+    """A dict of one move for each row met, by a dict of indices for the choice rows."""
+    return {number: outset.chain[number][indices.get(number, 0)] for number in outset.numbers.values()}
+
+
+def rows_without_end(outset, moves):
+    """The list of the numbers of the rows from which such moves lead to no outcome, with however small a chance."""
+    left = list(moves)
+    while True:
+        inside = {number: True for number in left}
+        # what leads to an outcome, or to a row that does, leads to one
+        kept = [number for number in left if all([place in inside for place in moves[number]])]
+        if len(kept) == len(left):
+            return kept
+        left = kept
+
+
+def are_best_moves(outset, numbers, indices):
+    """Whether such moves have just the numbers of a table, and those that lead to no outcome the number of never."""
+    moves = moves_by(outset, indices)
+    if not all([mean_by(move, numbers) == numbers[number] for number, move in moves.items()]):
+        return False
+    return all([numbers[number] == numbers[outset.never] for number in rows_without_end(outset, moves)])

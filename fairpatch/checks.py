@@ -2,8 +2,8 @@
 
 from fairpatch.errors import InvalidBody, InvalidSystem, InvalidUnit, NotFair
 from fairpatch.spaces import MOST_STORES, Space, stores_of_sizes
-from fairpatch.texts import is_tree
-from fairpatch.trees import walked
+from fairpatch.texts import counts_in_tree, is_tree
+from fairpatch.trees import MOST_LOOPS, MOST_STATEMENTS, MOST_STATEMENTS_IN_ALL, count_in, walked
 
 
 def first_repeated(words):
@@ -68,6 +68,15 @@ def wrong_in_statement(statement, sizes, ahead):
     return None
 
 
+def wrong_in_body(body, sizes, ahead):
+    """The tuple (reason, word) of the first thing that is wrong in a body, or None."""
+    for _, statement in walked(body, ()):
+        wrong = wrong_in_statement(statement, sizes, ahead)
+        if wrong is not None:
+            return wrong
+    return None
+
+
 def first_wrong(system):
     """The tuple (reason, unit, word) of the first thing that is wrong in a system, or None."""
     names, units = system
@@ -79,22 +88,29 @@ def first_wrong(system):
     large = first_too_large(names)
     if large is not None:
         return "stores", None, large
+    sizes = dict(names)
     for at, (unit, body) in enumerate(units):
-        for _, statement in walked(body, ()):
-            wrong = wrong_in_statement(statement, dict(names), callable_units[:at])
-            if wrong is not None:
-                return wrong[0], unit, wrong[1]
+        wrong = wrong_in_body(body, sizes, callable_units[:at])
+        if wrong is not None:
+            return wrong[0], unit, wrong[1]
     return None
 
 
-def check_system(system):
-    """Raises InvalidSystem or NotFair unless this is a fair system."""
-    if not is_tree(system):
+def checked_counts(system):
+    """The list of the numbers of statements in the units of a fair system; raises what check_system raises."""
+    counts = counts_in_tree(system)
+    if counts is None:
         raise InvalidSystem(system)
     wrong = first_wrong(system)
     if wrong is not None:
         reason, unit, word = wrong
         raise NotFair(reason, unit, word)
+    return counts
+
+
+def check_system(system):
+    """Raises InvalidSystem or NotFair unless this is a fair system."""
+    checked_counts(system)
 
 
 def is_fair(value):
@@ -142,12 +158,39 @@ def calls_of(system, unit):
     return calls_within(system, body_of(system, unit))
 
 
+class Bounds:
+    """Which bodies the units of a fair system can have, all else being as it is.
+
+    The other units are not gone through for this: only the numbers of their statements count.
+    """
+
+    def __init__(self, system, counts):
+        self.sizes = dict(system[0])
+        self.units = [unit for unit, _ in system[1]]
+        self.rooms = {
+            unit: MOST_STATEMENTS_IN_ALL - sum(counts) + count for unit, count in zip(self.units, counts)}
+
+    def check_body(self, unit, body):
+        """Raises InvalidBody or NotFair unless a unit can have this body."""
+        count = count_in(body, MOST_STATEMENTS, MOST_LOOPS)
+        if count is None or count > self.rooms[unit]:
+            raise InvalidBody(body)
+        wrong = wrong_in_body(body, self.sizes, self.units[:self.units.index(unit)])
+        if wrong is not None:
+            reason, word = wrong
+            raise NotFair(reason, unit, word)
+
+
+def check_body(system, unit, body):
+    """Raises what with_body raises."""
+    bounds = Bounds(system, checked_counts(system))
+    if unit not in bounds.units:
+        raise InvalidUnit(unit)
+    bounds.check_body(unit, body)
+
+
 def with_body(system, unit, body):
     """The system in which the unit has this body, and in which all else is as before."""
-    check_unit(system, unit)
+    check_body(system, unit, body)
     names, units = system
-    changed = (names, tuple([(name, body if name == unit else old) for name, old in units]))
-    if not is_tree(changed):
-        raise InvalidBody(body)
-    check_system(changed)
-    return changed
+    return names, tuple([(name, body if name == unit else old) for name, old in units])

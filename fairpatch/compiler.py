@@ -1,6 +1,6 @@
 """Compiling bodies to code."""
 
-from fairpatch.checks import with_body
+from fairpatch.checks import check_body
 from fairpatch.code import Code
 
 WORDS_FOR_SIGNS = {"+": "add", "-": "take", "*": "times"}
@@ -101,11 +101,11 @@ def code_of(body):
 
 def compiled(system, unit, body):
     """The Code of a body that a unit can have."""
-    with_body(system, unit, body)
+    check_body(system, unit, body)
     return code_of(body)
 
 
 def row_numbers(system, unit, body):
     """The ascending list of the tuples (path, number) of the statements of a body at which something is asked."""
-    with_body(system, unit, body)
+    check_body(system, unit, body)
     return Scribe(body).row_numbers

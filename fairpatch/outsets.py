@@ -32,6 +32,7 @@ class Outset:
         self.choices = [number for number in self.chain if len(self.chain[number]) > 1]
         self.narrow = {}
         self.taken = []
+        self.lots_found = {}
 
     def number_of_place(self, place):
         """The number of an outcome or of a row met."""
@@ -94,12 +95,18 @@ class Outset:
             raise TooGreat(self.unit, self.store)
 
     def picks_by_lot(self):
-        """A dict from the lots of all picks, ascending, to the least pick with each."""
-        found = {}
-        for pick in self.all_picks():
-            lot = self.lot_by(pick)
-            if lot not in found:
-                found[lot] = pick
-        for lot in found:
-            self.check_lot(lot)
-        return {lot: found[lot] for lot in sorted(list(found))}
+        """A dict from the lots of all picks, ascending, to the least pick with each; callers do not change it."""
+        if not self.lots_found:
+            found = {}
+            for pick in self.all_picks():
+                lot = self.lot_by(pick)
+                if lot not in found:
+                    found[lot] = pick
+            for lot in found:
+                self.check_lot(lot)
+            self.lots_found = {lot: found[lot] for lot in sorted(list(found))}
+        return self.lots_found
+
+    def row_of(self, number):
+        """The row met with a number."""
+        return self.rows[number - self.never - 1]

@@ -1,8 +1,9 @@
 """The plain meaning: games of a system, played step by step."""
 
-from fairpatch.checks import check_system, space_of
+from fairpatch.checks import check_system
 from fairpatch.errors import InvalidAnswer, InvalidSteps
 from fairpatch.meaning import holds, number_of
+from fairpatch.spaces import Space
 from fairpatch.wholes import is_whole_from
 
 MOST_STEPS = 2000
@@ -46,7 +47,7 @@ class Playing:
     """A game of a fair system: the store, and the bodies that have begun, one within another."""
 
     def __init__(self, system, store):
-        self.space = space_of(system)
+        self.space = Space(system[0])
         self.bodies = dict(system[1])
         self.store = store
         self.begun = []
@@ -117,7 +118,7 @@ class Playing:
 def check_playing(system, store, answers, steps):
     """Raises what play raises but for items that a step takes."""
     check_system(system)
-    space_of(system).check_store(store)
+    Space(system[0]).check_store(store)
     if not is_whole_from(steps, 0, MOST_STEPS):
         raise InvalidSteps(steps)
     if not isinstance(answers, (list, tuple)):

@@ -1,28 +1,25 @@
 """Whether one body stands for another one, with papers that show it or the contrary."""
 
 from fairpatch.blends import Bringer, are_blends, blends_or_refusal, is_refusal
-from fairpatch.checks import with_body
+from fairpatch.checks import check_body
 from fairpatch.errors import InvalidRow
-from fairpatch.forward import summaries_below
+from fairpatch.grounds import Ground, Site, place_store
 from fairpatch.outsets import Outset
-from fairpatch.picks import outset_at
-from fairpatch.webs import web_of
 from fairpatch.wholes import is_whole_from
 
 
-def bringers_of(system, unit, body):
+def bringers_over(ground, unit, body):
     """The tuple of the Bringers of the new unit and of those of the published one, a list with one for each store."""
-    with_body(system, unit, body)
-    published = dict(system[1])[unit]
-    told = summaries_below(system, [published, body])
+    published = ground.bodies[unit]
+    ground.told_below([published, body])
     # errors of the published unit come ahead of those of the new one
-    elder = bringers_in(web_of(system, published, told), unit)
-    return bringers_in(web_of(system, body, told), unit), elder
+    elder = bringers_in(ground.site_of(unit))
+    return bringers_in(Site(ground, unit, body)), elder
 
 
-def bringers_in(web, unit):
-    """The list of the Bringers of a unit, one for each store."""
-    return [Bringer(outset_at(web, unit, store)) for store in range(web.never)]
+def bringers_in(site):
+    """The list of the Bringers of a body, one for each store."""
+    return [Bringer(site.outset_from(store)) for store in range(site.web.never)]
 
 
 def stands_for(system, unit, body):
@@ -32,7 +29,13 @@ def stands_for(system, unit, body):
 
 def paper_for(system, unit, body):
     """The paper that shows that a body stands for the published one, or that it does not."""
-    fresh, elder = bringers_of(system, unit, body)
+    check_body(system, unit, body)
+    return paper_over(Ground(system), unit, body)
+
+
+def paper_over(ground, unit, body):
+    """What paper_for returns for the system of a ground and a body that the unit can have."""
+    fresh, elder = bringers_over(ground, unit, body)
     papers = []
     for store, near in enumerate(fresh):
         found = blends_or_refusal(near, elder[store])
@@ -44,7 +47,13 @@ def paper_for(system, unit, body):
 
 def is_paper_for(system, unit, body, value):
     """Whether any value is a paper for a body, or against it."""
-    fresh, elder = bringers_of(system, unit, body)
+    check_body(system, unit, body)
+    return is_paper_over(Ground(system), unit, body, value)
+
+
+def is_paper_over(ground, unit, body, value):
+    """What is_paper_for returns for the system of a ground and a body that the unit can have."""
+    fresh, elder = bringers_over(ground, unit, body)
     if is_yes(value):
         return are_papers(fresh, elder, value[1])
     if not isinstance(value, tuple) or len(value) != 5 or value[0] != "no":
@@ -78,8 +87,7 @@ def bringers_at(web, place, other, spot):
 
 def bringer_at(web, place):
     """The Bringer of a web from a place."""
-    store = place[1] if isinstance(place, tuple) else place
-    return Bringer(Outset(web, place, None, store))
+    return Bringer(Outset(web, place, None, place_store(place)))
 
 
 def stands_at(web, place, other, spot):
@@ -90,6 +98,11 @@ def stands_at(web, place, other, spot):
 def paper_at(web, place, other, spot):
     """The paper that shows that it is so, or that it is not."""
     near, far = bringers_at(web, place, other, spot)
+    return paper_between(near, far)
+
+
+def paper_between(near, far):
+    """What paper_at returns for two Bringers."""
     found = blends_or_refusal(near, far)
     if isinstance(found, tuple):
         return "no", *found
@@ -99,6 +112,11 @@ def paper_at(web, place, other, spot):
 def is_paper_at(web, place, other, spot, value):
     """Whether any value is such a paper."""
     near, far = bringers_at(web, place, other, spot)
+    return is_paper_between(near, far, value)
+
+
+def is_paper_between(near, far, value):
+    """What is_paper_at returns for two Bringers."""
     if is_yes(value):
         return are_blends(near, far, value[1])
     if not isinstance(value, tuple) or len(value) != 4 or value[0] != "no":

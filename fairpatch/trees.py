@@ -123,12 +123,14 @@ def count_in_unit(value):
     return count_in(value[1], MOST_STATEMENTS, MOST_LOOPS)
 
 
-def are_units(value):
-    """Whether any value is a tuple of units that a system can have."""
+def counts_in_units(value):
+    """The list of the numbers of statements in the units of any value that is a tuple of units; else None."""
     if not isinstance(value, tuple) or not 1 <= len(value) <= MOST_UNITS:
-        return False
+        return None
     counts = [count_in_unit(unit) for unit in value]
-    return None not in counts and sum(counts) <= MOST_STATEMENTS_IN_ALL
+    if None in counts or sum(counts) > MOST_STATEMENTS_IN_ALL:
+        return None
+    return counts
 
 
 def walked(body, path):

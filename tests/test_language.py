@@ -27,7 +27,7 @@ BARRED_NAMES = set(
 BARRED_WORDS = re.compile(
     r"\b(type|typing|enum|Enum|Flag|Generic|Protocol|ABC|namedtuple|NamedTuple|TypedDict|abstractmethod)\b|dataclass|overload")
 BARRED_NODES = (
-    ast.Global, ast.Nonlocal, ast.AsyncFunctionDef, ast.Await, ast.Yield, ast.YieldFrom, ast.Try, ast.With, ast.Match,
+    ast.Global, ast.Nonlocal, ast.AsyncFunctionDef, ast.Await, ast.Yield, ast.YieldFrom, ast.With, ast.Match,
     ast.Div, ast.GeneratorExp, ast.AnnAssign, ast.NamedExpr, ast.SetComp, ast.Set, ast.Delete, ast.Import,
 )
 BUILTIN_ATTRIBUTES = set().union(*[dir(one) for one in (str, int, list, dict, set, bytes, tuple, bool)])
@@ -104,6 +104,15 @@ class LanguageTests(unittest.TestCase):
             if isinstance(node.op, ast.Pow):
                 self.assertIsInstance(node.left, ast.Constant, name)
                 self.assertIsInstance(node.right, ast.Constant, name)
+
+    def test_handlers(self):
+        own = {node.name for node in self.trees["errors"].body if isinstance(node, ast.ClassDef)}
+        for name, node in self.nodes(ast.Try):
+            self.assertEqual(node.finalbody, [], name)
+            for handler in node.handlers:
+                caught = handler.type.elts if isinstance(handler.type, ast.Tuple) else [handler.type]
+                self.assertTrue({one.id for one in caught} <= own, name)
+                self.assertIsNone(handler.name)
 
     def test_imports(self):
         goes_to = {}
