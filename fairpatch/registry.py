@@ -26,7 +26,7 @@ class Registry(Shelf):
         return number
 
     def judged(self, unit, body):
-        """The tuple (number, paper) with which an exchange makes a body stand; None for a paper that is there already."""
+        """The tuple (number, paper) with which a body comes to stand; the paper is None if it has an edition."""
         number = self.number_for(unit, body)
         if number < len(self.kept[unit]):
             return number, None
