@@ -74,8 +74,11 @@ def numbers_behind(rows, at):
     return [at + 1]
 
 
-def heights_of(rows):
-    """The list of the heights of rows that have the form of a code, or None if they have none."""
+def heights_of(rows, onward):
+    """The list of the heights of rows that have the form of a code, or None if they have none.
+
+    `onward` are the lists of the numbers of the rows that may come behind each.
+    """
     heights = [None for _ in rows]
     heights[0] = 0
     waiting = [0]
@@ -85,7 +88,7 @@ def heights_of(rows):
         if heights[at] < taken or is_asking(rows[at]) and heights[at] > 0:
             return None
         height = heights[at] - taken + put
-        for number in numbers_behind(rows, at):
+        for number in onward[at]:
             if heights[number] is None:
                 heights[number] = height
                 waiting.append(number)
@@ -96,17 +99,19 @@ def heights_of(rows):
     return heights
 
 
-def ranks_of(rows):
+def ranks_of(rows, onward):
     """The list of the ranks of rows that have the form of a code, or None if some row has none."""
     ahead = [[] for _ in rows]
     open_ways = [0 for _ in rows]
+    ready = []
     for at, row in enumerate(rows):
-        if not is_asking(row):
-            for number in numbers_behind(rows, at):
+        if is_asking(row):
+            ready.append(at)
+        else:
+            open_ways[at] = len(onward[at])
+            for number in onward[at]:
                 ahead[number].append(at)
-                open_ways[at] += 1
     ranks = [0 for _ in rows]
-    ready = [at for at, row in enumerate(rows) if is_asking(row)]
     count = 0
     while ready:
         at = ready.pop()
@@ -130,8 +135,9 @@ def heights_and_ranks(value):
         return None
     if [at for at, row in enumerate(value) if row[0] == "back"] != [len(value) - 1]:
         return None
-    heights = heights_of(value)
-    ranks = ranks_of(value)
+    onward = [numbers_behind(value, at) for at in range(len(value))]
+    heights = heights_of(value, onward)
+    ranks = ranks_of(value, onward)
     if heights is None or ranks is None:
         return None
     return tuple(heights), tuple(ranks)

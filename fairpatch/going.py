@@ -90,7 +90,8 @@ def answers_with(asked, line):
 
 def numbers_with(head, line):
     """The list of the numbers of editions behind a head with which a line begins as words: of one, or of none."""
-    return [number for number in range(MOST_EDITIONS) if f"{line} ".startswith(f"{head} {number} ")]
+    words = line + " "
+    return [number for number in range(MOST_EDITIONS) if words.startswith(f"{head} {number} ")]
 
 
 def places_with(flow, store, text):

@@ -1,11 +1,15 @@
 import unittest
 from random import Random
+from time import perf_counter
 
 from fairpatch.checks import (
     body_of, calls_of, check_system, is_fair, space_of, statements, unit_names, with_body,
 )
+from fairpatch.compiler import compiled, row_numbers
 from fairpatch.errors import InvalidBody, InvalidSystem, InvalidUnit, NotFair
+from fairpatch.machine import Shelf
 from fairpatch.ratios import Ratio
+from fairpatch.registry import Registry
 from fairpatch.spaces import Space
 from fairpatch.texts import is_tree, read_system
 from tests.samples import TreeMaker, any_values, nested
@@ -235,6 +239,30 @@ class WithBodyTests(unittest.TestCase):
                 error = caught.exception
                 self.assertEqual((error.reason, error.unit, error.word), (reason, unit, word))
 
+    def test_against_the_whole_system(self):
+        """What is refused for one body is what check_system says of the whole system with it."""
+        random, seen = Random(22), {"fair": 0, "body": 0, "unfair": 0}
+        while min(seen.values()) < 60:
+            system, other = TreeMaker(random).system(), TreeMaker(random).system()
+            unit, body = random.choice(unit_names(system)), random.choice(other[1])[1]
+            if random.random() < 0.5:
+                body = random.choice(system[1])[1] + body
+            changed = (system[0], tuple((name, body if name == unit else old) for name, old in system[1]))
+            try:
+                check_system(changed)
+            except InvalidSystem:
+                self.refused(system, unit, body)
+                seen["body"] += 1
+            except NotFair as error:
+                with self.assertRaises(NotFair) as caught:
+                    with_body(system, unit, body)
+                self.assertEqual(vars(caught.exception), vars(error))
+                self.assertEqual(error.unit, unit)
+                seen["unfair"] += 1
+            else:
+                self.assertEqual(with_body(system, unit, body), changed)
+                seen["fair"] += 1
+
     def test_calls_stand_ahead(self):
         random = Random(21)
         for _ in range(40):
@@ -247,6 +275,48 @@ class WithBodyTests(unittest.TestCase):
         with self.assertRaises(NotFair) as caught:
             check_system(read_system("name a 2 unit b { set c = d }"))
         self.assertEqual(caught.exception.word, "c")
+
+
+NAME = "abcdefgh"
+FIFTEEN = tuple(("set", NAME, ("num", number)) for number in range(15))
+SIXTY = (((NAME, 4),), tuple((unit, FIFTEEN) for unit in ("pabcdefg", "qabcdefg", "rabcdefg", "sabcdefg")))
+
+
+def shortest(call, runs=40):
+    """The shortest of some runs, in seconds."""
+    found = []
+    for _ in range(runs):
+        begun = perf_counter()
+        call()
+        found.append(perf_counter() - begun)
+    return min(found)
+
+
+class SpeedTests(unittest.TestCase):
+    """Nothing is judged again that has been judged: the best of several runs, loosely compared."""
+
+    def test_bodies(self):
+        whole = shortest(lambda: check_system(SIXTY))
+        for many in (1, 12, 15):
+            body = tuple(("set", NAME, ("num", 99 - number)) for number in range(many))
+            self.assertLess(shortest(lambda: with_body(SIXTY, "qabcdefg", body)), 1.5 * whole)
+            self.assertLess(shortest(lambda: row_numbers(SIXTY, "qabcdefg", body)), 2 * whole)
+            self.assertLess(shortest(lambda: compiled(SIXTY, "qabcdefg", body)), 2 * whole)
+
+    def test_exchanges(self):
+        whole = shortest(lambda: check_system(SIXTY))
+        for shelf in (Shelf(SIXTY), Registry(SIXTY)):
+            body = tuple(("set", NAME, ("num", number)) for number in range(3, 15))
+            shelf.exchange("qabcdefg", body)
+            self.assertLess(shortest(lambda: shelf.exchange("qabcdefg", body)), 0.5 * whole)
+            self.assertLess(shortest(lambda: shelf.exchange("rabcdefg", FIFTEEN)), 0.5 * whole)
+        fresh = []
+        for at in range(5):
+            shelf = Shelf(SIXTY)
+            for number in range(11):
+                body = tuple(("set", NAME, ("num", 12 * at + number)) for _ in range(12))
+                fresh.append(shortest(lambda: shelf.exchange("qabcdefg", body), 1))
+        self.assertLess(min(fresh), 0.5 * whole)
 
 
 def bodies(statement):

@@ -1,5 +1,6 @@
 """The sessions of the interface, line by line: what is printed, or which error is raised with which attributes."""
 
+import ast
 import unittest
 
 from fairpatch import errors
@@ -166,6 +167,130 @@ True
 >>> game.lines()
 ['loop', 'call roll 0', 'turn 0 of 4', 'back roll', 'loop', 'call roll 1', 'back roll', 'back game']
 """,
+    "registry": r"""
+>>> from fairpatch.registry import Registry, read_registry
+>>> from fairpatch.texts import read_system
+>>> text = "name hp 2 unit roll { choose low { set hp = 0 } or high { set hp = 1 } } unit game { call roll }"
+>>> registry = Registry(read_system(text))
+>>> body = (("draw", "hp", ((0, 1), (1, 1))),)
+>>> [registry.exchange("roll", body), registry.standing("roll"), registry.paper("roll", 0), registry.paper("roll", 1)[0]]
+[1, 1, None, 'yes']
+>>> [registry.exchange("roll", registry.body_at("roll", 0)), registry.exchange("roll", body)]
+[0, 1]
+>>> registry.lines()[11:]
+['edition 1', 'unit roll {', '  draw hp 0 by 1 1 by 1', '}', 'stand roll 1', 'stand game 0']
+>>> read_registry(registry.lines()) == registry
+True
+>>> registry.exchange("game", (("while", ("yes",), ()),))
+raises NotLet(store=0, pick=())
+""",
+    "house": r"""
+>>> from fairpatch.house import House
+>>> from fairpatch.registry import Registry
+>>> from fairpatch.texts import read_system
+>>> system = read_system("name hp 3 unit game { while hp < 2 { choose up { set hp = hp + 1 } or wait { } } }")
+>>> registry = Registry(system)
+>>> house = House(registry)
+>>> [house.begin(0), house.begin(2), house.step(0), house.step(0, "wait"), house.asks(1), house.frames(0)]
+[0, 1, None, None, ('back', 'game'), [('game', 0, ((0,), 0))]]
+>>> loop = (("while", system[1][0][1][0][1], (("set", "hp", ("+", ("name", "hp"), ("num", 1))),)),)
+>>> [registry.exchange("game", loop), house.frames(0), house.move(0, 1, ((0,), 0)), house.lines(0)]
+[1, [('game', 0, ((0,), 0))], None, ['loop', 'choose wait', 'move game 1 0']]
+>>> [registry.stand("game", 0), house.unused(), house.step(0), house.step(0), house.step(0), house.asks(0), house.unused()]
+[None, [], None, None, None, ('over', 2), [('game', 1)]]
+>>> house.move(1, 1, ((0,), 2))
+raises InvalidRow(((0,), 2))
+""",
+    "worth": r"""
+>>> from fairpatch.house import House
+>>> from fairpatch.registry import Registry
+>>> from fairpatch.texts import read_system
+>>> from fairpatch.worth import is_bound, is_worth_paper, worth, worth_paper
+>>> house = House(Registry(read_system("name hp 2 unit game { draw hp 0 by 1 1 by 1 }")))
+>>> game = house.begin(0)
+>>> paper = worth_paper(house, game, [0, 2, 0])
+>>> [worth(house, game, [0, 2, 0]) == 1, paper[1][0][1], paper[1][0][0][0][1] == 1]
+[True, [(((0,), 0), 0)], True]
+>>> [is_worth_paper(house, game, [0, 2, 0], paper), is_bound(house, game, [0, 2, 0], (2, [[(((0,), 0), 2)]]))]
+[True, True]
+>>> house.step(game, 1)
+>>> worth(house, game, [0, 2, 0]) == 2
+True
+""",
+    "pictures": r"""
+>>> from fairpatch.house import House
+>>> from fairpatch.pictures import audit, go_on, is_audit, picture, reckoning
+>>> from fairpatch.records import record_of, replay
+>>> from fairpatch.registry import Registry
+>>> from fairpatch.texts import read_system
+>>> text = "name hp 3 unit roll { choose low { set hp = 0 } or high { set hp = 2 } } unit game { call roll }"
+>>> system, body = read_system(text), (("draw", "hp", ((0, 1), (2, 3))),)
+>>> house = House(Registry(system))
+>>> [house.begin(1), house.registry.exchange("roll", body), house.step(0), house.step(0, 3)]
+[0, 1, None, None]
+>>> record = record_of(house, 0)
+>>> [record[0], [edition[:2] for edition in record[1]], record[2]]
+[1, [('roll', 1), ('game', 0)], ['call game 0', 'call roll 1', 'turn 3 of 4']]
+>>> replay(system, record)
+(('back', 'roll'), 2, [('game', 0, ((0,), 1)), ('roll', 1, 2)])
+>>> [str(number) for number in reckoning(house, 0, [0, 0, 8, 0])]
+['8', '-2', '2']
+>>> [picture(house)[-4:], picture(go_on(picture(house))) == picture(house), is_audit(system, audit(house, 0))]
+[['game 0 from 1', 'call game 0', 'call roll 1', 'turn 3 of 4'], True, True]
+""",
+    "odds": r"""
+>>> from fairpatch.odds import Guide, best_plan, corner_picks, lot_of_plan, loss, odds
+>>> right = (("draw", "hp", ((0, 1), (2, 1))),)
+>>> dodge = ("dodge", (("choose", (("left", (("set", "hp", ("num", 0)),)), ("right", right))),))
+>>> again = ("if", ("same", ("name", "hp"), ("num", 0)), (("call", "dodge"),), ())
+>>> system = ((("hp", 3),), (dodge, ("game", (("call", "dodge"), again))))
+>>> [(str(least), str(most)) for least, most in odds(system, 1)]
+[('1/4', '1'), ('0', '0'), ('0', '3/4'), ('0', '0')]
+>>> corner_picks(system)
+{'dodge': [[(0,), (1,)], [(0,), (1,)], [(0,), (1,)]]}
+>>> number, pick, table = best_plan(system, 1, [0, 0, 4, 1])
+>>> [str(number), pick, [(row, str(one)) for row, one in table]]
+['3', (1, 1), [(((0,), 1), '3'), (((1, 0, 0), 0), '2')]]
+>>> lot_of_plan(system, 1, (pick, corner_picks(system)))
+(1, 0, 3, 0)
+>>> guide = Guide(system, 1, ((0, 1), corner_picks(system)))
+>>> [guide.label_for([]), guide.label_for(["left"]), guide.label_for(["right"]), guide.label_for(["right", 1])]
+['left', 'right', None, None]
+>>> [str(one) for one in loss(system, "dodge", (("set", "hp", ("num", 0)),), [0, 0, 4, 1])]
+['3', '3', '3']
+""",
+    "improve": r"""
+>>> from fairpatch.improve import can_end, course_of, improved_system, is_step, stores_at
+>>> from fairpatch.texts import read_system
+>>> roll = "name hp 3 unit roll { draw hp 0 by 1 2 by 1 set hp = hp * 0 } "
+>>> rules = read_system(roll + "unit game { call roll if hp < 1 { choose a { } or b { } } else { set hp = 2 } }")
+>>> [can_end(rules, "roll"), stores_at(rules, "game")]
+[[[0], [0], [0]], [((0,), [0, 1, 2]), ((1,), [0]), ((1, 0, 0), [0]), ((1, 1, 0), [])]]
+>>> [step[:2] for step in course_of(rules, "roll")]
+[((1,), 'folded'), ((0,), 'lost')]
+>>> improved_system(rules)[1]
+(('roll', (('set', 'hp', ('num', 0)),)), ('game', (('call', 'roll'),)))
+>>> is_step(rules, "roll", ((0,), "lost", rules[1][0][1][1:]))
+False
+""",
+    "desk": r"""
+>>> from fairpatch.desk import Desk, read_desk
+>>> desk = Desk()
+>>> rules = "name hp 2 unit roll { choose low { set hp = 0 } or high { set hp = 1 } } unit game { call roll }"
+>>> [desk.lay("club", rules), desk.tables(), desk.house_of("club").begin(1)]
+[None, ['club'], 0]
+>>> fair = "name hp 2 unit roll { draw hp 0 by 1 1 by 1 } unit game { call roll }"
+>>> [desk.preview("club", fair)[0][1][0], desk.patch("club", fair), desk.patch("club", fair)]
+['yes', [('roll', 1)], []]
+>>> desk.text("club")
+'name hp 2\nunit roll {\n  draw hp 0 by 1 1 by 1\n}\nunit game {\n  call roll\n}'
+>>> [desk.twin("club", "den"), desk.undo("club"), desk.patch("den", rules), desk.lines()[-2:]]
+[None, None, [('roll', 0)], ['patch roll 0', 'patch roll 1']]
+>>> [desk.house_of("den").games(), read_desk(desk.lines()) == desk, len(desk), "den" in desk]
+[[0], True, 2, True]
+>>> desk.patch("club", "name hp 3 unit roll { } unit game { }")
+raises InvalidSystem(((('hp', 3),), (('roll', ()), ('game', ()))))
+""",
 }
 
 
@@ -173,11 +298,15 @@ class ExampleTests(unittest.TestCase):
     def judge(self, code, told, names):
         """Runs a line, and compares what it tells with what the interface tells."""
         if told.startswith("raises "):
-            expected = eval(told[len("raises "):], vars(errors))
-            with self.assertRaises(errors.PatchError) as caught:
+            call = ast.parse(told[len("raises "):], mode="eval").body
+            with self.assertRaises(getattr(errors, call.func.id)) as caught:
                 exec(code, names)
-            self.assertIs(caught.exception.__class__, expected.__class__)
-            self.assertEqual(vars(caught.exception), vars(expected))
+            attributes = vars(caught.exception)
+            given = [ast.literal_eval(one) for one in call.args]
+            named = {one.arg: ast.literal_eval(one.value) for one in call.keywords}
+            self.assertEqual(list(attributes.values())[:len(given)], given)
+            self.assertEqual({name: attributes[name] for name in named}, named)
+            self.assertTrue(named or len(attributes) == len(given))
         elif told:
             self.assertEqual(repr(eval(code, names)), told)
         else:

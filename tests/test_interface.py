@@ -29,6 +29,25 @@ FUNCTIONS = {
     "code": {"is_code": "value", "lines_of": "code", "read_code": "lines"},
     "running": {"settled": "space code at store", "question": "code at", "answered": "space code at store answer"},
     "compiler": {"compiled": "system unit body", "row_numbers": "system unit body"},
+    "registry": {"read_registry": "lines"},
+    "worth": {
+        "worth": "house game payoff", "worth_paper": "house game payoff", "is_worth_paper": "house game payoff value",
+        "is_bound": "house game payoff value",
+    },
+    "records": {"record_of": "house game", "is_record": "system value", "replay": "system record"},
+    "pictures": {
+        "audit": "house game", "is_audit": "system value", "reckoning": "house game payoff", "picture": "house", "go_on": "lines",
+    },
+    "odds": {
+        "odds": "system store", "corner_picks": "system", "is_plan": "system store value", "lot_of_plan": "system store plan",
+        "best_plan": "system store payoff", "is_best_plan": "system store payoff value", "loss": "system unit body payoff",
+    },
+    "improve": {
+        "can_end": "system unit", "stores_at": "system unit", "steps": "system unit", "is_step": "system unit value",
+        "course_of": "system unit", "is_course": "system unit value", "improved": "system unit", "improved_system": "system",
+        "alike_editions": "registry unit",
+    },
+    "desk": {"read_desk": "lines"},
 }
 CLASSES = {
     ("ratios", "Ratio"): {
@@ -52,6 +71,20 @@ CLASSES = {
     ("machine", "Game"): {
         "__init__": "self shelf store", "asks": "self", "answer": "self label", "turn": "self part", "go": "self",
         "frames": "self", "used": "self", "move": "self number place", "lines": "self",
+    },
+    ("registry", "Registry"): {
+        "__init__": "self system", "exchange": "self unit body", "paper": "self unit number", "lines": "self", "__eq__": "self other",
+    },
+    ("house", "House"): {
+        "__init__": "self registry", "begin": "self store", "games": "self", "has": "self value", "step": "self game answer",
+        "asks": "self game", "lines": "self game", "store_now": "self game", "start_of": "self game", "frames": "self game",
+        "unused": "self", "move": "self game number place",
+    },
+    ("odds", "Guide"): {"__init__": "self system store plan", "label_for": "self answers"},
+    ("desk", "Desk"): {
+        "__init__": "self", "__len__": "self", "__contains__": "self name", "__eq__": "self other", "tables": "self",
+        "house_of": "self name", "lay": "self name text", "drop": "self name", "rename": "self name new", "twin": "self name new",
+        "patch": "self name text", "preview": "self name text", "undo": "self name", "text": "self name", "lines": "self",
     },
 }
 

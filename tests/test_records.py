@@ -29,6 +29,18 @@ class Told:
             self.bodies[unit][number] = body
 
 
+class MovedGame(TextGame):
+    """A game that keeps its moves: the unit, the edition and the place ahead, those behind."""
+
+    def __init__(self, told, store):
+        self.moves = []
+        super().__init__(told, store)
+
+    def move(self, number, place):
+        self.moves.append((*self.frames[-1], number, place))
+        super().move(number, place)
+
+
 def number_told(told, unit, word):
     """The edition that a word tells of a unit, None if there is none."""
     for number in told.bodies[unit]:
@@ -90,7 +102,7 @@ def judged(system, value):
     if head[0] != f"call {units[-1]}" or number is None:
         return None
     told.stands[units[-1]] = number
-    text = TextGame(told, store)
+    text = MovedGame(told, store)
     for line in lines[1:]:
         if not takes(told, text, line, sum(one.startswith("move") for one in text.lines)):
             return None
