@@ -11,7 +11,6 @@ from fairpatch.errors import (
 )
 from fairpatch.house import House
 from fairpatch.pictures import go_on, picture
-from fairpatch.ratios import Ratio
 from fairpatch.registry import Registry
 from fairpatch.stands import paper_for
 from fairpatch.texts import is_tree, read_system, write_system

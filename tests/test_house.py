@@ -4,8 +4,7 @@ from random import Random
 
 from fairpatch.checks import calls_of, with_body
 from fairpatch.errors import (
-    InvalidAnswer, InvalidEdition, InvalidGame, InvalidPart, InvalidRow, InvalidStore, NotAsked, NotLet, PatchError, TooGreat,
-    TooMany, TooRich,
+    InvalidAnswer, InvalidEdition, InvalidGame, InvalidPart, InvalidRow, InvalidStore, NotAsked, NotLet, TooGreat, TooMany, TooRich,
 )
 from fairpatch.forward import summary
 from fairpatch.house import House

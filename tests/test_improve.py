@@ -2,8 +2,8 @@ import time
 import unittest
 from random import Random
 
-from fairpatch.checks import body_of, is_fair, with_body
-from fairpatch.errors import InvalidSystem, InvalidUnit, NotFair, PatchError, TooGreat, TooMany, TooRich
+from fairpatch.checks import is_fair, with_body
+from fairpatch.errors import InvalidSystem, InvalidUnit, NotFair, TooGreat, TooMany, TooRich
 from fairpatch.forward import corners_of, summary
 from fairpatch.improve import (
     alike_editions, can_end, course_of, improved, improved_system, is_course, is_step, steps, stores_at,
@@ -17,7 +17,6 @@ from tests.houses import CLUB, HouseMaker, small_registry, walks_below
 from tests.judges import all_new
 from tests.samples import TreeMaker, any_values
 from tests.small import spoiled
-from tests.test_checks import at_path
 from tests.test_forward import GREAT, tree
 from tests.test_picks import THREE, TWO
 from tests.test_stands import with_part

@@ -13,7 +13,7 @@ from fairpatch.forward import best, corners_of, summary, table
 from fairpatch.odds import Guide, best_plan, corner_picks, is_best_plan, is_plan, lot_of_plan, loss, odds
 from fairpatch.plain import play
 from fairpatch.ratios import Ratio
-from fairpatch.stands import stands_for
+from fairpatch.stands import paper_for, stands_for
 from fairpatch.texts import is_tree, read_system
 from tests import judges
 from tests.houses import Ahead, HouseMaker, are_moves, walks_below, wrong_numbers
@@ -25,6 +25,7 @@ from tests.test_picks import THREE, TWO
 from tests.test_stands import patches
 from tests.test_webs import straight
 from tests.test_worth import some_payoff
+from tests.walks import part_at
 
 BITS, EIGHT = "name a 2 name b 2 ", "name a 2 name b 2 name c 2 "
 OTHERS = [None, True, False, 0, 1, -1, (), [], {}, (0,), "a", Ratio(1, 2)]
@@ -238,7 +239,7 @@ class Playing:
                 walk, picks, place = self.frames[-1]
                 self.come(walk.behind(place[0], self.store))
         else:
-            statement = judges_part(walk, place)
+            statement = statement_at(walk, place)
             if word == "choose":
                 index = [label for label, _ in statement[1]].index(rest[0])
                 self.come(walk.place(walk.inside(place[0], index), place[1]))
@@ -253,17 +254,16 @@ class Playing:
         if not self.frames or not isinstance(self.frames[-1][2], tuple):
             return None
         walk, _, place = self.frames[-1]
-        statement = judges_part(walk, place)
+        statement = statement_at(walk, place)
         return statement[1][self.told()][0] if statement[0] == "choose" else None
 
     def asks(self):
         if not self.frames or not isinstance(self.frames[-1][2], tuple):
             return None
-        return judges_part(self.frames[-1][0], self.frames[-1][2])
+        return statement_at(self.frames[-1][0], self.frames[-1][2])
 
 
-def judges_part(walk, place):
-    from tests.walks import part_at
+def statement_at(walk, place):
     return part_at(walk.body, place[0])
 
 
@@ -432,7 +432,6 @@ class LossTests(OddsTests):
                 self.assertFalse(any(one.below(0) for one in told))
 
     def test_a_refusal(self):
-        from fairpatch.stands import paper_for
         system = read_system(BITS + "unit u { draw a 0 by 1 1 by 1 } unit g { call u set a = 0 }")
         body = (("choose", (("x", (("set", "a", ("num", 0)),)), ("y", (("set", "a", ("num", 1)),)))),)
         word, store, pick, payoff, numbers = paper_for(system, "u", body)

@@ -1,11 +1,9 @@
 import time
 import unittest
-from copy import deepcopy
 from random import Random
 
-from fairpatch.checks import calls_of, is_fair
-from fairpatch.errors import InvalidGame, InvalidLines, InvalidPayoff, InvalidSystem, NotFair, NotLet, PatchError, TooGreat, TooMany, TooRich
-from fairpatch.forward import summary
+from fairpatch.checks import is_fair
+from fairpatch.errors import InvalidGame, InvalidLines, InvalidPayoff, InvalidSystem, NotFair, TooGreat, TooMany, TooRich
 from fairpatch.house import House
 from fairpatch.pictures import audit, go_on, is_audit, picture, reckoning
 from fairpatch.records import record_of
@@ -13,7 +11,7 @@ from fairpatch.registry import Registry
 from fairpatch.texts import is_tree, read_system
 from fairpatch.worth import worth
 from tests import judges
-from tests.houses import CLUB, LOOP, HouseMaker, KeptWalk, places_for, some_answer, some_deed, some_house, try_exchange, walks_below, wrong_numbers
+from tests.houses import CLUB, LOOP, HouseMaker, some_answer, some_deed, some_house, try_exchange, walks_below, wrong_numbers
 from tests.judges import all_new, is_list, is_tuple
 from tests.samples import any_values
 from tests.small import spoiled
@@ -149,16 +147,13 @@ class AuditTests(PictureTests):
             self.refused(InvalidGame, value, audit, house, value)
 
     def test_false_where_errors_would_come(self):
-        for text in ["unit u { " + TWO * 7 + "} unit g { }", "unit u { } unit g { " + THREE * 4 + "}"]:
-            system = read_system(BITS + text)
-            unit = "u" if TWO * 7 in text else "g"
-            same = (*dict(system[1])[unit], ("set", "a", ("name", "a")))
-            game = dict(system[1])["g"]
-            record = (0, [("g", 1, (*game, ("set", "a", ("name", "a"))))], ["call g 1"]) if unit == "g" else None
-            if record:
-                self.assertFalse(is_audit(system, (record, [("yes", [])], [])))
-            self.assertTrue(is_audit(system, ((0, [("g", 0, game)], ["call g 0"]), [None], [])))
-            self.assertEqual(len(same), len(dict(system[1])[unit]) + 1)
+        # the picks of the published unit, and of the new one
+        for ahead, behind in [(THREE * 4, "set a = a"), ("", TWO * 7)]:
+            system = read_system(BITS + "unit g { " + ahead + "}")
+            body = read_system(BITS + "unit g { " + behind + "}")[1][0][1]
+            lot = [[((1, 0, 0, 0, 0), [(1, (0,) * 4)])]] * 4
+            self.assertFalse(is_audit(system, ((0, [("g", 1, body)], ["call g 1"]), [("yes", lot)], [])))
+            self.assertTrue(is_audit(system, ((0, [("g", 0, system[1][0][1])], ["call g 0"]), [None], [])))
         # the summaries for a move, and the picks from its places
         system = read_system(BITS + "unit u { " + TWO * 7 + "} unit g { while yes { } call u }")
         record = (0, [("g", 0, dict(system[1])["g"])], ["call g 0", "move g 0 0"])

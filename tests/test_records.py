@@ -5,11 +5,10 @@ from random import Random
 from fairpatch.checks import is_fair, with_body
 from fairpatch.errors import InvalidGame, InvalidRecord, InvalidSystem, NotFair, PatchError
 from fairpatch.house import House
-from fairpatch.ratios import Ratio
 from fairpatch.records import is_record, record_of, replay
 from fairpatch.registry import Registry
 from fairpatch.texts import is_tree, read_system
-from tests.houses import CLUB, LOOP, HouseMaker, some_deed, some_house, wrong_numbers
+from tests.houses import CLUB, LOOP, HouseMaker, some_house, wrong_numbers
 from tests.judges import all_new, is_int, is_list, is_tuple
 from tests.samples import any_values
 from tests.small import spoiled

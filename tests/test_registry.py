@@ -6,13 +6,12 @@ from fairpatch.checks import is_fair, with_body
 from fairpatch.errors import (
     InvalidBody, InvalidEdition, InvalidLines, InvalidSystem, InvalidUnit, NotFair, NotLet, PatchError, TooGreat, TooMany, TooRich,
 )
-from fairpatch.forward import corners_of, summary
+from fairpatch.forward import summary
 from fairpatch.machine import Game, Shelf
-from fairpatch.ratios import Ratio
 from fairpatch.registry import Registry, read_registry
 from fairpatch.stands import is_paper_for, paper_for
 from fairpatch.texts import is_tree, read_system, write_system
-from tests.houses import CLUB, HouseMaker, some_bodies, small_registry, try_exchange, wrong_numbers
+from tests.houses import CLUB, HouseMaker, some_bodies, small_registry, wrong_numbers
 from tests.judges import all_new, lists_in
 from tests.samples import TreeMaker, any_values
 from tests.test_forward import GREAT, inside, tree
