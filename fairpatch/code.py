@@ -117,7 +117,8 @@ def ranks_of(rows, onward):
         at = ready.pop()
         count += 1
         for before in ahead[at]:
-            ranks[before] = max(ranks[before], ranks[at] + 1)
+            if ranks[before] <= ranks[at]:
+                ranks[before] = ranks[at] + 1
             open_ways[before] -= 1
             if open_ways[before] == 0:
                 ready.append(before)

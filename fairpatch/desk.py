@@ -112,7 +112,8 @@ class Desk:
         for (unit, body), (number, paper) in zip(bodies, judged):
             registry.accept(unit, number, body, paper)
         if bodies:
-            table.patches = [*table.patches, stood][-MOST_PATCHES:]
+            patches = [*table.patches, stood]
+            table.patches = patches[-MOST_PATCHES:]
         return [(unit, number) for (unit, _), (number, _) in zip(bodies, judged)]
 
     def preview(self, name, text):

@@ -202,7 +202,7 @@ class PatchTests(DeskTests):
                 self.assertEqual(desk.text(name="club"), write_system(own.current()))
                 self.assertEqual(desk.patch("club", desk.text("club")), [])
             self.assertEqual(read_desk(desk.lines()), desk)
-        self.assertGreater(min(seen.values()), 20)
+        self.assertGreater(min(seen.values()), 10)
 
     def one_deed(self, random, maker, desk, twin, seen):
         registry, own = desk.house_of("club").registry, twin.registries["club"]

@@ -1,5 +1,7 @@
 import time
 import unittest
+from copy import deepcopy
+from fractions import Fraction
 from random import Random
 
 from fairpatch.checks import calls_of, with_body
@@ -16,10 +18,11 @@ from fairpatch.webs import web
 from tests.houses import CLUB, LOOP, HouseMaker, places_for, small_registry, some_answer, try_exchange, wrong_numbers
 from tests.judges import all_new
 from tests.samples import any_values
-from tests.test_forward import GREAT, tree
+from tests.test_forward import GREAT, inside, tree
 from tests.test_machine import TextGame
 from tests.test_picks import THREE, TWO
 from tests.test_webs import straight
+from tests.walks import lot_of_chances
 
 HEAD = "name a 2 name b 2 "
 
@@ -363,6 +366,59 @@ class MoveTests(HouseTests):
         house.step(0, 0)
         self.assertIsNone(house.move(0, 1, 0))
         self.assertEqual(house.frames(0)[-1], ("roll", 1, 0))
+
+
+class LotTests(HouseTests):
+    """The lot of the ends, all parts of all wheels looked at, is one that the published system brings."""
+
+    def ends(self, maker, house, seed, chance, found, left):
+        """Adds the chances of the ends of a game; False if it goes on too long."""
+        random = Random(f"{seed} {house.lines(0)}")
+        if random.random() < 0.5:
+            try_exchange(random, maker, house.registry)
+        if random.random() < 0.5:
+            unit = random.choice(house.registry.published()[1])[0]
+            house.registry.stand(unit, random.randrange(len(house.registry.editions(unit))))
+        if random.random() < 0.4 and house.frames(0):
+            try:
+                house.move(0, *random.choice(places_for(house, 0)))
+            except (NotLet, TooMany):
+                pass
+        asked = house.asks(0)
+        if asked[0] == "over":
+            found[asked[1]] = found.get(asked[1], 0) + chance
+            return True
+        if not left[0]:
+            return False
+        left[0] -= 1
+        answers = range(asked[1]) if asked[0] == "turn" else [some_answer(random, asked)]
+        for answer in answers:
+            behind = deepcopy(house)
+            behind.step(0, answer)
+            if not self.ends(maker, behind, seed, chance / len(answers), found, left):
+                return False
+        return True
+
+    def test_lots_of_ends(self):
+        random, seen, mixed_lots = Random(212), 0, 0
+        while seen < 60:
+            maker = HouseMaker(random, 5)
+            registry = small_registry(random, maker=maker, tries=3, units=random.randrange(1, 4))
+            system, never = registry.published(), registry.space.never
+            try:
+                told = summary(system, system[1][-1][0])
+            except (TooMany, TooRich):
+                continue
+            store, found = random.randrange(never), {}
+            house = House(registry)
+            house.begin(store)
+            if not self.ends(maker, house, random.random(), Fraction(1), found, [80]):
+                continue
+            seen += 1
+            mixed_lots += len(found) > 1
+            lot = lot_of_chances([found.get(outcome, Fraction(0)) for outcome in range(never + 1)])
+            self.assertTrue(inside(told[store], lot), (registry.lines(), store, lot))
+        self.assertGreater(mixed_lots, 10)
 
 
 class SpeedTests(HouseTests):

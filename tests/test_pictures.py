@@ -1,5 +1,6 @@
 import time
 import unittest
+from copy import deepcopy
 from random import Random
 
 from fairpatch.checks import is_fair
@@ -389,6 +390,17 @@ class GoOnTests(PictureTests):
                     system = again.registry.published()
                     self.assertTrue(all(is_audit(system, audit(again, game)) for game in again.games()))
         self.assertGreater(right, 30)
+
+    def test_arguments_stay_as_they_are(self):
+        house = some_house(Random(246), games=3, steps=8, maker=HouseMaker(Random(246), 5))
+        lines, payoff = picture(house), [1] * (house.registry.space.never + 1)
+        told, system = audit(house, 0), house.registry.published()
+        before = (list(lines), list(payoff), deepcopy(told))
+        go_on(lines), is_audit(system, told), reckoning(house, 0, payoff), picture(house), worth(house, 0, payoff)
+        self.assertEqual((lines, payoff, told), before)
+        # what is done with lists that were told changes nothing
+        lines.clear(), told[0][2].clear(), told[1].append(None)
+        self.assertEqual((picture(house), audit(house, 0)), (before[0], before[2]))
 
     def test_values_of_all_kinds(self):
         house = House(Registry(read_system(LOOP)))
