@@ -279,6 +279,10 @@ class PatchTests(DeskTests):
                     self.refused(InvalidText, value, call, "club", value)
             self.stays(desk, NoSystem, {"line": 1, "column": 10}, call, "club", "name hp 2")
             self.stays(desk, NotFair, {"reason": "call", "unit": "roll", "word": "game"}, call, "club", "name hp 2 unit roll { call game } unit game { }")
+            # what is not fair is told ahead of other names, and of what an exchange would raise for a unit ahead
+            self.stays(desk, NotFair, {"reason": "name", "unit": "roll", "word": "x"}, call, "club", "name mp 2 unit roll { set x = 1 }")
+            self.stays(desk, NotFair, {"reason": "call", "unit": "game", "word": "game"}, call, "club", "name hp 2 unit roll { while yes { } } unit game { call game }")
+            self.stays(desk, NotFair, {"reason": "twice", "unit": None, "word": "hp"}, call, "club", "name hp 2 name hp 2 unit roll { } unit game { }")
         two = Desk()
         two.lay("den", "name a 2 name b 2 unit u { }")
         self.raised(InvalidSystem, {"given": read_system("name b 2 name a 2 unit u { }")}, two.patch, "den", "name b 2 name a 2 unit u { }")

@@ -259,8 +259,9 @@ class StepTests(ImproveTests):
             self.assertIs(is_step(system, "turn", ((0,), "dead", value)), False)
             self.assertIs(is_step(system, "turn", (value, "dead", ())), False)
         one = read_system("name a 2 unit g { set b = 1 set a = a }".replace("set b = 1", "set a = 1"))
-        right = steps(one, "g")[0]
-        for value in [((True,), "idle", right[2]), ((Ratio(1),), "idle", right[2])]:
+        right = steps(one, "g")[1]
+        self.assertTrue(is_step(one, "g", right))
+        for value in [((True,), "idle", right[2]), ((Ratio(1),), "idle", right[2]), ((1,), None, right[2]), ([1], "idle", right[2]), list(right), (*right, 0)]:
             self.assertFalse(is_step(one, "g", value))
         self.assertEqual([step[:2] for step in steps(one, "g")], [((1,), "folded"), ((1,), "idle")])
         self.assertTrue(is_step(one, "g", ((1,), "idle", (("set", "a", ("num", 1)),))))

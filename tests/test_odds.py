@@ -292,7 +292,8 @@ class GuideTests(OddsTests):
                         answers.append(expected if random.random() < 0.6 else random.choice(statement[1])[0])
                     else:
                         answers.append(random.randrange(sum(weight for _, weight in statement[2])))
-                    for wrong in random.sample([*any_values(), "zz", -1, True, 99], 4):
+                    parts = sum(weight for _, weight in statement[2]) if statement[0] == "draw" else 0
+                    for wrong in [*random.sample([*any_values(), "zz", -1, True, 99], 4), parts, parts + 1]:
                         self.wrong_answer(guide, system, store, [*answers[:-1], wrong])
             self.assertEqual(guide.label_for([]), Guide(system, store, plan).label_for([]))
         self.assertGreater(labels, 80)

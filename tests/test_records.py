@@ -197,6 +197,7 @@ class RecordTests(unittest.TestCase):
             ([("u", 7, ()), ("g", 3, (("call", "u"), ("call", "u")))], ["call g 3", "call u 7"], True),
             ([("u", 1, two), ("u", 2, two), head], ["call g 0", "call u 1", "move u 2 end"], False),
             ([("u", 1, two), ("u", 3, ()), head], ["call g 0", "call u 1", "move u 3 end"], True),
+            ([("u", 1, two), ("u", 1, ()), head], ["call g 0", "call u 1"], False), ([("u", 1, ()), ("u", 1, two), head], lines, False),
             ([("u", 1, two), ("u", 3, ()), head], ["call g 0", "call u 1", "move u 3 0"], False),
             ([("u", 3, ()), ("u", 1, two), head], ["call g 0", "call u 1", "move u 3 end"], False),
             ([("u", 1, two), ("u", 4, two * 2), head], ["call g 0", "call u 4", "move u 1 end", "back u", "back g"], True),
