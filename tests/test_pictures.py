@@ -218,40 +218,42 @@ class ReckoningTests(PictureTests):
             deed()
             if len(house.lines(0)) > lines:
                 told.append(worth(house, 0, payoff))
-        self.assertEqual(reckoning(house, 0, payoff), [told[0]] + [now - ahead for ahead, now in zip(told, told[1:])])
+        numbers = reckoning(house, 0, payoff)
+        self.assertEqual(numbers, [told[0]] + [now - ahead for ahead, now in zip(told, told[1:])])
+        return numbers
 
     def test_calls_of_one_unit_from_several_places(self):
-        rules = "name hp 3 unit roll { choose low { draw hp 0 by 1 1 by 3 } or high { draw hp 1 by 1 2 by 2 } } " \
-            "unit game { call roll if hp = 0 { set hp = 2 } else { } choose x { } or y { set hp = 2 - hp } call roll set hp = 2 - hp call roll }"
-        for payoff in ([0, 3, 9, -4], [5, -1, 2, 7], [-3, 8, 8, 0]):
-            for labels in (["low", "x", "low", "high"], ["high", "y", "low", "low"], ["low", "y", "high", "high"]):
-                house, random = House(Registry(read_system(rules))), Random(247)
+        rules = "name hp 2 name gold 4 unit roll { choose low { draw hp 0 by 3 1 by 1 } or high { draw hp 0 by 1 1 by 2 } } " \
+            "unit turn { call roll set gold = gold + hp } unit game { call turn call roll set gold = (gold + hp) + hp call turn set gold = 3 - gold }"
+        for payoff in ([0, 3, 9, -4, 1, 1, -7, 2, 0], [5, -1, 2, 7, -3, 4, 8, 0, 9], [0, 1, 2, 3, 4, 5, 6, 7, -9]):
+            for labels in (["low", "high", "low"], ["high", "high", "low"], ["low", "low", "high"]):
+                house, answers, random = House(Registry(read_system(rules))), iter(labels), Random(247)
                 house.begin(0)
-                answers = iter(labels)
 
-                def deed():
+                def step():
                     asked = house.asks(0)
                     if asked[0] != "over":
                         house.step(0, next(answers) if asked[0] == "choose" else some_answer(random, asked))
-                self.line_by_line(house, [deed] * 16, payoff)
+                numbers = self.line_by_line(house, [step] * 20, payoff)
+                self.assertEqual(house.asks(0)[0], "over")
+                self.assertGreater(len({str(number) for number in numbers}), 4)
 
     def test_editions_with_equal_places(self):
-        rules = "name hp 3 unit roll { choose low { draw hp 0 by 1 1 by 3 } or high { draw hp 1 by 1 2 by 2 } } unit game { while yes { call roll } }"
-        for payoff in ([0, 3, 9, -4], [5, -1, 2, 7], [1, 1, 1, 8]):
-            house = House(Registry(read_system(rules.replace("while yes", "while hp < 2"))))
+        rules = "name hp 3 unit roll { choose low { draw hp 0 by 1 1 by 3 } or high { draw hp 1 by 1 2 by 2 } } unit game { call roll }"
+        for payoff, label, change in [([0, 3, 9, -4], "low", "-19/4"), ([5, -1, 2, 7], "deep", "-1/2"), ([0, 1, 2, 9], "low", "-11/12")]:
+            house = House(Registry(read_system(rules)))
             registry, coin = house.registry, (("draw", "hp", ((0, 1), (1, 3))),)
             house.begin(0)
             self.assertEqual(registry.exchange("roll", (("choose", (("low", coin), ("deep", coin))),)), 1)
             registry.stand("roll", 0)
-
-            def step():
-                asked = house.asks(0)
-                house.step(0, asked[1][0] if asked[0] == "choose" else 0 if asked[0] == "turn" else None)
-            move = lambda: house.move(0, 1, ((0,), 0))
-            deeds = [step] * 2 + [move] + [step] * 5 + [lambda: registry.stand("roll", 1)] + [step] * 5 + [lambda: registry.stand("roll", 0)] + [step] * 5
-            self.line_by_line(house, deeds, payoff)
-            self.assertEqual([line for line in house.lines(0) if line[:4] in ("call", "move")],
-                             ["call roll 0", "move roll 1 0", "call roll 0", "call roll 1", "call roll 0"])
+            deeds = [lambda: house.step(0), lambda: house.move(0, 1, ((0,), 0)), lambda: house.step(0, label), lambda: house.step(0, 0)]
+            numbers = self.line_by_line(house, deeds, payoff)
+            self.assertEqual(str(numbers[2]), change)
+            # the same where the call that is moved is the lowest one
+            house = House(Registry(read_system(rules[:rules.index("unit game")])))
+            house.begin(0)
+            house.registry.exchange("roll", (("choose", (("low", coin), ("deep", coin))),))
+            self.assertEqual(str(self.line_by_line(house, deeds[1:], payoff)[1]), change)
 
     def test_errors(self):
         house = House(Registry(read_system(LOOP)))
