@@ -109,12 +109,12 @@ class Desk:
         # all are judged before any is exchanged
         judged = [registry.judged(unit, body) for unit, body in bodies]
         stood = tuple([(unit, registry.standing(unit)) for unit, _ in bodies])
-        for (unit, body), (number, paper) in zip(bodies, judged):
-            registry.accept(unit, number, body, paper)
+        for change in judged:
+            registry.accept(change)
         if bodies:
             patches = [*table.patches, stood]
             table.patches = patches[-MOST_PATCHES:]
-        return [(unit, number) for (unit, _), (number, _) in zip(bodies, judged)]
+        return [(change.unit, change.number) for change in judged]
 
     def preview(self, name, text):
         """The list of the tuples (unit, paper) of what a patch would exchange, None for what is there already."""
@@ -125,7 +125,7 @@ class Desk:
             registry.bounds.check_body(unit, body)
             paper = None
             if registry.number_of_body(unit, body) is None:
-                paper = paper_over(registry.ground, unit, body)
+                paper = paper_over(registry.ground.new_site(unit, body))
             found.append((unit, paper))
         return found
 

@@ -44,6 +44,7 @@ class Site:
 
     def __init__(self, ground, unit, body):
         told = ground.told_below([body])
+        self.ground = ground
         self.unit = unit
         self.web = web_of(ground.system, body, told)
         self.outsets = {}
@@ -87,6 +88,11 @@ class Ground:
         if unit not in self.sites:
             self.sites[unit] = Site(self, unit, self.bodies[unit])
         return self.sites[unit]
+
+    def new_site(self, unit, body):
+        """The Site of another body of a unit; raises what summary raises for what it or the published one calls."""
+        self.told_below([self.bodies[unit], body])
+        return Site(self, unit, body)
 
     def summary_of(self, unit):
         """The list of the corners of a unit for each store."""

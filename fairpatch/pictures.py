@@ -41,7 +41,7 @@ def are_edition_papers(ground, editions, papers):
         if number == 0:
             if paper is not None:
                 return False
-        elif not is_yes(paper) or not is_paper_over(ground, unit, body, paper):
+        elif not is_yes(paper) or not is_paper_over(ground.new_site(unit, body), paper):
             return False
     return True
 

@@ -2,12 +2,23 @@
 
 from fairpatch.checks import is_fair
 from fairpatch.errors import InvalidLines, NoSystem, NotLet, PatchError
-from fairpatch.grounds import Ground, Site
+from fairpatch.grounds import Ground
 from fairpatch.machine import Shelf
 from fairpatch.stands import paper_over
 from fairpatch.texts import read_system
 from fairpatch.wholes import read_whole
 from fairpatch.writing import system_lines, unit_lines
+
+
+class Exchange:
+    """An exchange that has been judged: the number of the edition, and for a new one its paper and its Site."""
+
+    def __init__(self, unit, number, body):
+        self.unit = unit
+        self.number = number
+        self.body = body
+        self.paper_found = None
+        self.site = None
 
 
 class Registry(Shelf):
@@ -21,26 +32,29 @@ class Registry(Shelf):
 
     def exchange(self, unit, body):
         """Makes an edition with this body stand, a new one if it is let by, and returns its number."""
-        number, paper = self.judged(unit, body)
-        self.accept(unit, number, body, paper)
-        return number
+        change = self.judged(unit, body)
+        self.accept(change)
+        return change.number
 
     def judged(self, unit, body):
-        """The tuple (number, paper) with which a body comes to stand; the paper is None if it has an edition."""
-        number = self.number_for(unit, body)
-        if number < len(self.kept[unit]):
-            return number, None
-        paper = paper_over(self.ground, unit, body)
-        if paper[0] == "no":
-            _, store, pick, payoff, table = paper
+        """The Exchange that makes a body stand; raises what exchange raises."""
+        change = Exchange(unit, self.number_for(unit, body), body)
+        if change.number < len(self.kept[unit]):
+            return change
+        change.site = self.ground.new_site(unit, body)
+        change.paper_found = paper_over(change.site)
+        if change.paper_found[0] == "no":
+            _, store, pick, payoff, table = change.paper_found
             raise NotLet(store, pick, payoff, table)
-        return number, paper
+        return change
 
-    def accept(self, unit, number, body, paper):
+    def accept(self, change):
         """Does an exchange that has been judged."""
-        if paper is not None:
-            self.papers_kept[(unit, number)] = paper
-        self.put(unit, number, body)
+        edition = (change.unit, change.number)
+        if change.site is not None:
+            self.papers_kept[edition] = change.paper_found
+            self.edition_sites[edition] = change.site
+        self.put(change.unit, change.number, change.body)
 
     def paper(self, unit, number):
         """The paper that an edition keeps, or None for the published one."""
@@ -55,8 +69,6 @@ class Registry(Shelf):
         """The Site of an edition over the summaries of published units; raises what their summary raises."""
         if number == 0:
             return self.ground.site_of(unit)
-        if (unit, number) not in self.edition_sites:
-            self.edition_sites[(unit, number)] = Site(self.ground, unit, self.body_at(unit, number))
         return self.edition_sites[(unit, number)]
 
     def flow_at(self, unit, number):

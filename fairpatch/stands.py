@@ -3,18 +3,16 @@
 from fairpatch.blends import Bringer, are_blends, blends_or_refusal, is_refusal
 from fairpatch.checks import check_body
 from fairpatch.errors import InvalidRow
-from fairpatch.grounds import Ground, Site, place_store
+from fairpatch.grounds import Ground, place_store
 from fairpatch.outsets import Outset
 from fairpatch.wholes import is_whole_from
 
 
-def bringers_over(ground, unit, body):
+def bringers_over(site):
     """The tuple of the Bringers of the new unit and of those of the published one, a list with one for each store."""
-    published = ground.bodies[unit]
-    ground.told_below([published, body])
     # errors of the published unit come ahead of those of the new one
-    elder = bringers_in(ground.site_of(unit))
-    return bringers_in(Site(ground, unit, body)), elder
+    elder = bringers_in(site.ground.site_of(site.unit))
+    return bringers_in(site), elder
 
 
 def bringers_in(site):
@@ -30,12 +28,12 @@ def stands_for(system, unit, body):
 def paper_for(system, unit, body):
     """The paper that shows that a body stands for the published one, or that it does not."""
     check_body(system, unit, body)
-    return paper_over(Ground(system), unit, body)
+    return paper_over(Ground(system).new_site(unit, body))
 
 
-def paper_over(ground, unit, body):
-    """What paper_for returns for the system of a ground and a body that the unit can have."""
-    fresh, elder = bringers_over(ground, unit, body)
+def paper_over(site):
+    """What paper_for returns for the Site of a new body."""
+    fresh, elder = bringers_over(site)
     papers = []
     for store, near in enumerate(fresh):
         found = blends_or_refusal(near, elder[store])
@@ -48,12 +46,12 @@ def paper_over(ground, unit, body):
 def is_paper_for(system, unit, body, value):
     """Whether any value is a paper for a body, or against it."""
     check_body(system, unit, body)
-    return is_paper_over(Ground(system), unit, body, value)
+    return is_paper_over(Ground(system).new_site(unit, body), value)
 
 
-def is_paper_over(ground, unit, body, value):
-    """What is_paper_for returns for the system of a ground and a body that the unit can have."""
-    fresh, elder = bringers_over(ground, unit, body)
+def is_paper_over(site, value):
+    """What is_paper_for returns for the Site of a new body."""
+    fresh, elder = bringers_over(site)
     if is_yes(value):
         return are_papers(fresh, elder, value[1])
     if not isinstance(value, tuple) or len(value) != 5 or value[0] != "no":
