@@ -413,6 +413,30 @@ class LinesTests(DeskTests):
             self.assertEqual(again.lines(), desk.lines())
             self.assertTrue(again == desk and desk == again)
 
+    def test_words_of_the_lines(self):
+        """Names, units and labels that are the words with which lines begin."""
+        rules = "name from 2 name turn 2 unit move { choose end { set from = 0 } or move { set from = 1 } } unit stand { call move } " \
+            "unit edition { while from = 0 { call stand } } unit patch { call edition } unit table { call patch set turn = from } " \
+            "unit game { call table choose loop { } or turn { draw turn 0 by 1 1 by 2 } or back { call move } }"
+        desk, random = Desk(), Random(285)
+        desk.lay("table", rules), desk.lay("patch", rules)
+        house = desk.house_of("table")
+        house.begin(0), house.begin(1)
+        self.assertEqual(desk.patch("table", rules.replace("choose end { set from = 0 } or move { set from = 1 }", "set from = 1")), [("move", 1)])
+        self.assertEqual(desk.patch("table", rules.replace("call stand }", "call stand call stand }").replace("call patch set", "call edition set")),
+                         [("move", 0), ("edition", 1), ("table", 1)])
+        for game in house.games():
+            while house.asks(game)[0] != "over":
+                if house.asks(game)[0] == "choose":
+                    house.move(game, 0, house.frames(game)[-1][2])
+                house.step(game, some_answer(random, house.asks(game)))
+                self.assertEqual(read_desk(desk.lines()), desk)
+        self.assertIn("move move 0 0", desk.lines())
+        self.assertIn("choose move", desk.lines())
+        self.assertEqual([line for line in desk.lines() if line.startswith("patch")], ["patch move 0", "patch move 1 edition 0 table 0"])
+        desk.twin("table", "stand"), desk.undo("stand")
+        self.assertEqual(read_desk(desk.lines()).lines(), desk.lines())
+
     def test_read_goes_on(self):
         random = Random(282)
         for _ in range(25):
